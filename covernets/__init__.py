@@ -1,0 +1,1 @@
+"""Covernets: deciding systems of any number of alike parties."""

@@ -1,0 +1,226 @@
+"""Covering goals: the step back, the cover basis, and ways to the goals (point 15)."""
+
+from heapq import heappop, heappush
+from math import comb
+
+from covernets.closed import Basis, basis_of, covers
+from covernets.nets import fire
+from covernets.runs import run_from
+
+# So many expansions are spent on a search for a short way, before places are pumped.
+SHORT_SEARCH = 2000
+
+
+class Node:
+    """A marking from which the goals can be covered.
+
+    From it the run leads into the closed set of the marking of the node after. It is fired once, or, where
+    gains are given, until this is so; each time adds the gains at least. A goal has no node after.
+    """
+
+    def __init__(self, marking, run, gains, after):
+        self.marking = marking
+        self.run = run
+        self.gains = gains
+        self.after = after
+
+
+class Search:
+    """The nodes found backward from the goals, until nothing is new or one covers what is looked for.
+
+    With a limit, only so many transitions are tried, one by one. Without one, runs are pumped: a run that
+    makes places grow is repeated without end, so that the size of the numbers does not matter.
+    """
+
+    def __init__(self, net, goals, marking, limit):
+        self.net = net
+        self.marking = marking
+        self.limit = limit
+        self.found = None
+        self.nodes = []
+        self.ranks = {}
+        self.basis = Basis([])
+        self.queue = []
+        for goal in basis_of(goals):
+            self.keep(Node(goal, (), None, None))
+        tried = 0
+        while self.queue and self.found is None and tried != limit:
+            _, _, at, index = heappop(self.queue)
+            if self.nodes[at].marking in self.basis.members:
+                self.expand(self.nodes[at], index)
+                tried += 1
+
+    def expand(self, node, index):
+        """Add the nodes from which firing the transition leads to the node."""
+        for marking in predecessors(self.net.transitions[index], node.marking, self.basis):
+            before = Node(marking, (index,), None, node)
+            if self.limit is None:
+                for pump in _pumps(self.net, before):
+                    self.keep(pump)
+            self.keep(before)
+
+    def keep(self, node):
+        """Add the node, if its marking does not cover that of another one."""
+        if self.basis.contains(node.marking):
+            return
+        # A node takes the turn of those that it replaces: else one that shrinks again and again would
+        # never have its turn.
+        replaced = self.basis.add(node.marking)
+        rank = min([self.ranks[marking] for marking in replaced], default=len(self.nodes))
+        self.ranks[node.marking] = rank
+        for index, transition in enumerate(self.net.transitions):
+            count = _count_predecessors(transition, node.marking)
+            if count > 0:
+                heappush(self.queue, (count, rank, len(self.nodes), index))
+        self.nodes.append(node)
+        if self.marking is not None and covers(self.marking, node.marking):
+            self.found = node
+
+
+def _pumps(net, node):
+    """Return the nodes that are left of the node when runs from it to nodes after it are repeated."""
+    pumps = []
+    run = []
+    other = node
+    while other.gains is None and other.after is not None:
+        run.extend(other.run)
+        other = other.after
+        if covers(other.marking, node.marking):
+            growing = [place for place in range(net.places) if node.marking[place] < other.marking[place]]
+            lowered = _lowered(net, node.marking, run, growing)
+            if lowered is not None and lowered != node.marking:
+                last = run_from(net, lowered, run)
+                gains = tuple([number - low for number, low in zip(last, lowered)])
+                pumps.append(Node(lowered, tuple(run), gains, other))
+    return pumps
+
+
+def _lowered(net, marking, run, growing):
+    """Return the marking with no more tokens in the growing places than the run needs.
+
+    Return None if the tokens of a growing place are not back there after the run.
+    """
+    current = [0 if place in growing else number for place, number in enumerate(marking)]
+    lowered = list(current)
+    seat = {place: place for place in growing}
+    for index in run:
+        takes, _, moves = net.transitions[index]
+        for place in growing:
+            lack = takes[seat[place]] - current[seat[place]]
+            if lack > 0:
+                lowered[place] += lack
+                current[seat[place]] += lack
+        current = list(fire(net, index, tuple(current)))
+        for place in growing:
+            seat[place] = moves[seat[place]]
+            if seat[place] == -1:
+                return None
+    for place in growing:
+        if seat[place] != place:
+            return None
+    return tuple(lowered)
+
+
+def step_back(net, members):
+    """Return the step back of a closed set: the basis of the markings one firing before it."""
+    tasks = []
+    for member in basis_of(members):
+        for index, transition in enumerate(net.transitions):
+            tasks.append((_count_predecessors(transition, member), index, member))
+    before = Basis([])
+    # The transitions with many least markings come last, when most of these are known.
+    for _, index, member in sorted(tasks):
+        for marking in predecessors(net.transitions[index], member, before):
+            before.add(marking)
+    return sorted(before.members)
+
+
+def predecessors(transition, member, known):
+    """Return the least markings from which firing leads to a marking that covers the member.
+
+    Those that cover a marking of the basis that is known are left out.
+    """
+    takes, gives, moves = transition
+    rows = [takes]
+    for place, number in enumerate(member):
+        if number > gives[place]:
+            sources = [source for source, target in enumerate(moves) if target == place]
+            rows = _with_tokens(rows, sources, number - gives[place], known)
+    return [row for row in rows if not known.contains(row)]
+
+
+def _with_tokens(rows, sources, number, known):
+    """Return the rows with so many tokens more, spread over the sources in each way."""
+    if not sources:
+        return []
+    pairs = [(row, number) for row in rows]
+    for source in sources[:-1]:
+        pairs = [pair for row, left in pairs for pair in _with_some(row, source, left, known)]
+    return [_raised(row, sources[-1], left) for row, left in pairs]
+
+
+def _with_some(row, source, left, known):
+    """Return pairs: the row with some of the tokens that are left at the source, and what is left then."""
+    pairs = []
+    for number in range(left + 1):
+        raised = _raised(row, source, number)
+        # What has more tokens is known, too.
+        if known.contains(raised):
+            break
+        pairs.append((raised, left - number))
+    return pairs
+
+
+def _raised(row, place, number):
+    """Return the row with so many tokens more at the place."""
+    return row[:place] + (row[place] + number,) + row[place + 1:]
+
+
+def _count_predecessors(transition, member):
+    """Return the number of the least markings from which firing leads to the member."""
+    _, gives, moves = transition
+    count = 1
+    for place, number in enumerate(member):
+        if number > gives[place]:
+            sources = moves.count(place)
+            if sources == 0:
+                return 0
+            count = count * comb(number - gives[place] + sources - 1, sources - 1)
+    return count
+
+
+def cover_basis(net, goals):
+    """Return the cover basis of the goals: the least markings from which they can be covered."""
+    return sorted(Search(net, goals, None, None).basis.members)
+
+
+def way(net, goals, marking):
+    """Return a run, a list, that leads from the marking into the closed set of the goals, or None."""
+    search = Search(net, goals, marking, SHORT_SEARCH)
+    if search.found is None and search.queue:
+        search = Search(net, goals, marking, None)
+    if search.found is None:
+        return None
+    return _run_along(net, search.found, marking)
+
+
+def _run_along(net, node, marking):
+    """Return the run that leads from the marking along the nodes to a goal."""
+    run = []
+    while node.after is not None:
+        part = list(node.run) * _times(node, marking)
+        marking = run_from(net, marking, part)
+        run.extend(part)
+        node = node.after
+    return run
+
+
+def _times(node, marking):
+    """Return how often the run of the node is to be fired from the marking."""
+    wanted = node.after.marking
+    if covers(marking, wanted):
+        return 0
+    if node.gains is None:
+        return 1
+    lacks = [(goal - number, gain) for goal, number, gain in zip(wanted, marking, node.gains) if goal > number]
+    return max([-(-lack // gain) for lack, gain in lacks])

@@ -1,0 +1,75 @@
+"""Nets: places with tokens, and transitions that take, move and give them (points 11 and 12)."""
+
+from covernets.closed import covers
+from covernets.errors import InvalidNet, NotEnabled, NotPlain
+
+MOST_PLACES = 12
+MOST_TRANSITIONS = 24
+MOST_TOKENS = 9
+
+
+class Net:
+    """A net with the places 0, 1, .. places - 1 and transitions (takes, gives, moves)."""
+
+    def __init__(self, places, transitions):
+        if not 1 <= places <= MOST_PLACES:
+            raise InvalidNet(f"a net has from 1 to {MOST_PLACES} places")
+        if len(transitions) > MOST_TRANSITIONS:
+            raise InvalidNet(f"a net has at most {MOST_TRANSITIONS} transitions")
+        self.places = places
+        self.transitions = tuple([_checked(transition, places) for transition in transitions])
+
+
+def _checked(transition, places):
+    """Return a copy of the transition, or raise InvalidNet."""
+    if len(transition) != 3:
+        raise InvalidNet("a transition consists of takes, gives and moves")
+    takes, gives, moves = transition
+    return (
+        _numbers(takes, places, 0, MOST_TOKENS),
+        _numbers(gives, places, 0, MOST_TOKENS),
+        _numbers(moves, places, -1, places - 1),
+    )
+
+
+def _numbers(row, places, least, most):
+    """Return a copy of the row if it has one number between the bounds for each place."""
+    if len(row) != places:
+        raise InvalidNet("takes, gives and moves have one number for each place")
+    for number in row:
+        if not least <= number <= most:
+            raise InvalidNet(f"a number is not between {least} and {most}")
+    return tuple(row)
+
+
+def is_plain(net):
+    """Return True if the net is plain, otherwise False."""
+    staying = tuple(range(net.places))
+    for _, _, moves in net.transitions:
+        if moves != staying:
+            return False
+    return True
+
+
+def check_plain(net):
+    """Raise NotPlain if the net is not plain."""
+    if not is_plain(net):
+        raise NotPlain("a transition of the net moves or loses tokens")
+
+
+def enabled(net, index, marking):
+    """Return True if the marking enables the transition with this index, otherwise False."""
+    takes, _, _ = net.transitions[index]
+    return covers(marking, takes)
+
+
+def fire(net, index, marking):
+    """Return the marking after firing the transition; raise NotEnabled with position 0."""
+    takes, gives, moves = net.transitions[index]
+    if not covers(marking, takes):
+        raise NotEnabled(0)
+    result = list(gives)
+    for place, target in enumerate(moves):
+        if target != -1:
+            result[target] += marking[place] - takes[place]
+    return tuple(result)

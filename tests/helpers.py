@@ -1,0 +1,55 @@
+"""What several tests use: small nets that are made from a seed, and slow but plain reference functions."""
+
+import random
+from itertools import product
+
+from covernets.nets import Net, enabled, fire
+
+HUGE = 10 ** 30
+
+
+def staying(places):
+    return tuple(range(places))
+
+
+def plain_net(places, pairs):
+    """The plain net with transitions that take and give what the pairs say."""
+    return Net(places, [(takes, gives, staying(places)) for takes, gives in pairs])
+
+
+def small_net(seed, places, transitions, most, moving):
+    """A net that is made from a seed; moving is the chance, in tenths, that a place moves its tokens."""
+    chooser = random.Random(seed)
+
+    def row():
+        return tuple(chooser.randint(1, most) if chooser.random() < 0.4 else 0 for _ in range(places))
+
+    def moves():
+        return tuple(
+            chooser.randint(-1, places - 1) if chooser.randrange(10) < moving else place for place in range(places)
+        )
+
+    return Net(places, [(row(), row(), moves()) for _ in range(transitions)])
+
+
+def box(size, most):
+    """All markings of this size with numbers from 0 to most."""
+    return list(product(range(most + 1), repeat=size))
+
+
+def successors(net, marking):
+    return [fire(net, index, marking) for index in range(len(net.transitions)) if enabled(net, index, marking)]
+
+
+def reachable(net, marking, limit):
+    """The set of all reachable markings, or None if there are more than the limit."""
+    seen = {marking}
+    waiting = [marking]
+    while waiting:
+        for result in successors(net, waiting.pop()):
+            if result not in seen:
+                seen.add(result)
+                waiting.append(result)
+                if len(seen) > limit:
+                    return None
+    return seen
