@@ -4,11 +4,15 @@ from heapq import heappop, heappush
 from math import comb
 
 from covernets.closed import Basis, basis_of, covers
-from covernets.nets import fire
-from covernets.runs import run_from
+from covernets.nets import fire, runs_plainly
+from covernets.runs import need_and_effect, run_from, shifted, spread
 
 # So many expansions are spent on a search for a short way, before places are pumped.
 SHORT_SEARCH = 2000
+
+# Runs that are pumped come from at most so many nodes, and repeat other runs at most so often.
+LONGEST = 40
+FEW = 40
 
 
 class Node:
@@ -77,21 +81,62 @@ class Search:
             self.found = node
 
 
+class Loop:
+    """A run from a marking along the nodes after it, in which pumped runs are fired as often as needed.
+
+    A part is a list [run, times, gains]. Where gains are given, firing the run once more just adds them to
+    the marking that is reached in the end.
+    """
+
+    def __init__(self, net, marking):
+        self.net = net
+        self.current = marking
+        self.parts = []
+
+    def follow(self, node):
+        """Fire the run of the node; return False if this does not work."""
+        plain = runs_plainly(self.net, node.run)
+        times = 1 if node.gains is None else _times(node, node.marking)
+        if node.gains is not None and plain and times > FEW:
+            times = 0
+        wanted = need_and_effect(self.net, node.run)[0] if plain else node.marking
+        if times > FEW or not self.grow_to(wanted):
+            return False
+        self.current = run_from(self.net, self.current, list(node.run) * times)
+        if not plain:
+            self.parts = [[run, number, None] for run, number, _ in self.parts]
+        self.parts.append([node.run, times, node.gains if plain else None])
+        return True
+
+    def grow_to(self, wanted):
+        """Fire runs more often until what is wanted is covered; return False if this does not work."""
+        for place, number in enumerate(wanted):
+            lack = number - self.current[place]
+            helpful = [part for part in self.parts if lack > 0 and part[2] is not None and part[2][place] > 0]
+            if lack > 0 and (not helpful or lack > FEW):
+                return False
+            for part in helpful[-1:]:
+                more = -(-lack // part[2][place])
+                part[1] += more
+                self.current = shifted(self.current, part[2], more)
+        return True
+
+
 def _pumps(net, node):
-    """Return the nodes that are left of the node when runs from it to nodes after it are repeated."""
+    """Return nodes with less tokens than the node, from which repeating a run leads to the node."""
     pumps = []
-    run = []
+    loop = Loop(net, node.marking)
     other = node
-    while other.gains is None and other.after is not None:
-        run.extend(other.run)
+    while other.after is not None and len(loop.parts) < LONGEST and loop.follow(other):
         other = other.after
-        if covers(other.marking, node.marking):
-            growing = [place for place in range(net.places) if node.marking[place] < other.marking[place]]
+        if loop.grow_to(node.marking):
+            run = spread([(part[0], part[1]) for part in loop.parts])
+            growing = [place for place in range(net.places) if node.marking[place] < loop.current[place]]
             lowered = _lowered(net, node.marking, run, growing)
             if lowered is not None and lowered != node.marking:
                 last = run_from(net, lowered, run)
                 gains = tuple([number - low for number, low in zip(last, lowered)])
-                pumps.append(Node(lowered, tuple(run), gains, other))
+                pumps.append(Node(lowered, tuple(run), gains, node))
     return pumps
 
 

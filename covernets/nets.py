@@ -44,9 +44,14 @@ def _numbers(row, places, least, most):
 
 def is_plain(net):
     """Return True if the net is plain, otherwise False."""
+    return runs_plainly(net, range(len(net.transitions)))
+
+
+def runs_plainly(net, run):
+    """Return True if all transitions of the run are plain, otherwise False."""
     staying = tuple(range(net.places))
-    for _, _, moves in net.transitions:
-        if moves != staying:
+    for index in run:
+        if net.transitions[index][2] != staying:
             return False
     return True
 
