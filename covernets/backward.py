@@ -49,14 +49,14 @@ class Search:
             self.keep(Node(goal, (), None, None))
         tried = 0
         while self.queue and self.found is None and tried != limit:
-            _, _, at, index = heappop(self.queue)
+            _, at, index, whole = heappop(self.queue)
             if self.nodes[at].marking in self.basis.members:
-                self.expand(self.nodes[at], index)
+                self.expand(self.nodes[at], index, whole)
                 tried += 1
 
-    def expand(self, node, index):
+    def expand(self, node, index, whole):
         """Add the nodes from which firing the transition leads to the node."""
-        for marking in predecessors(self.net.transitions[index], node.marking, self.basis):
+        for marking in predecessors(self.net.transitions[index], node.marking, self.basis, whole):
             before = Node(marking, (index,), None, node)
             if self.limit is None:
                 for pump in _pumps(self.net, before):
@@ -73,9 +73,13 @@ class Search:
         rank = min([self.ranks[marking] for marking in replaced], default=len(self.nodes))
         self.ranks[node.marking] = rank
         for index, transition in enumerate(self.net.transitions):
-            count = _count_predecessors(transition, node.marking)
-            if count > 0:
-                heappush(self.queue, (count, rank, len(self.nodes), index))
+            ends = count_predecessors(transition, node.marking, False)
+            count = count_predecessors(transition, node.marking, True)
+            if ends > 0:
+                heappush(self.queue, (rank, len(self.nodes), index, False))
+            # Where they are many, they wait until others may have made most of them needless.
+            if count > ends:
+                heappush(self.queue, (rank + count, len(self.nodes), index, True))
         self.nodes.append(node)
         if self.marking is not None and covers(self.marking, node.marking):
             self.found = node
@@ -131,38 +135,53 @@ def _pumps(net, node):
         other = other.after
         if loop.grow_to(node.marking):
             run = spread([(part[0], part[1]) for part in loop.parts])
-            growing = [place for place in range(net.places) if node.marking[place] < loop.current[place]]
-            lowered = _lowered(net, node.marking, run, growing)
-            if lowered is not None and lowered != node.marking:
-                last = run_from(net, lowered, run)
-                gains = tuple([number - low for number, low in zip(last, lowered)])
-                pumps.append(Node(lowered, tuple(run), gains, node))
+            # Tokens that move may be back in their place only when the run has been fired several times.
+            for times in range(1, 2 if runs_plainly(net, run) else net.places + 1):
+                pump = _pump(net, node, run * times)
+                if pump is not None:
+                    pumps.append(pump)
+                    break
     return pumps
 
 
-def _lowered(net, marking, run, growing):
-    """Return the marking with no more tokens in the growing places than the run needs.
+def _pump(net, node, run):
+    """Return the node from which repeating the run leads to the node, or None if it has no less tokens.
 
-    Return None if the tokens of a growing place are not back there after the run.
+    The run leads from the marking of the node to one that covers it.
     """
+    last = run_from(net, node.marking, run)
+    growing = []
+    for place, number in enumerate(node.marking):
+        if 0 < number < last[place] and _seats(net, run, place)[-1] == place:
+            growing.append(place)
+    lowered = _lowered(net, node.marking, run, growing)
+    if lowered == node.marking:
+        return None
+    last = run_from(net, lowered, run)
+    return Node(lowered, tuple(run), tuple([number - low for number, low in zip(last, lowered)]), node)
+
+
+def _seats(net, run, place):
+    """Return where the tokens of the place are before the run and after each of its transitions, -1 if lost."""
+    seats = [place]
+    for index in run:
+        seats.append(-1 if seats[-1] == -1 else net.transitions[index][2][seats[-1]])
+    return seats
+
+
+def _lowered(net, marking, run, growing):
+    """Return the marking with no more tokens in the growing places than the run needs there."""
     current = [0 if place in growing else number for place, number in enumerate(marking)]
     lowered = list(current)
-    seat = {place: place for place in growing}
-    for index in run:
-        takes, _, moves = net.transitions[index]
+    seats = {place: _seats(net, run, place) for place in growing}
+    for at, index in enumerate(run):
+        takes, _, _ = net.transitions[index]
         for place in growing:
-            lack = takes[seat[place]] - current[seat[place]]
-            if lack > 0:
-                lowered[place] += lack
-                current[seat[place]] += lack
+            seat = seats[place][at]
+            lack = max(0, takes[seat] - current[seat])
+            lowered[place] += lack
+            current[seat] += lack
         current = list(fire(net, index, tuple(current)))
-        for place in growing:
-            seat[place] = moves[seat[place]]
-            if seat[place] == -1:
-                return None
-    for place in growing:
-        if seat[place] != place:
-            return None
     return tuple(lowered)
 
 
@@ -171,26 +190,30 @@ def step_back(net, members):
     tasks = []
     for member in basis_of(members):
         for index, transition in enumerate(net.transitions):
-            tasks.append((_count_predecessors(transition, member), index, member))
+            tasks.append((count_predecessors(transition, member, True), index, member))
     before = Basis([])
     # The transitions with many least markings come last, when most of these are known.
     for _, index, member in sorted(tasks):
-        for marking in predecessors(net.transitions[index], member, before):
+        for marking in predecessors(net.transitions[index], member, before, True):
             before.add(marking)
     return sorted(before.members)
 
 
-def predecessors(transition, member, known):
+def predecessors(transition, member, known, whole):
     """Return the least markings from which firing leads to a marking that covers the member.
 
-    Those that cover a marking of the basis that is known are left out.
+    Those that cover a marking of the basis that is known are left out; and if the whole list is not wanted,
+    those that need tokens of several places where one place is enough.
     """
     takes, gives, moves = transition
     rows = [takes]
     for place, number in enumerate(member):
         if number > gives[place]:
             sources = [source for source, target in enumerate(moves) if target == place]
-            rows = _with_tokens(rows, sources, number - gives[place], known)
+            if whole:
+                rows = _with_tokens(rows, sources, number - gives[place], known)
+            else:
+                rows = [_raised(row, source, number - gives[place]) for row in rows for source in sources]
     return [row for row in rows if not known.contains(row)]
 
 
@@ -221,7 +244,7 @@ def _raised(row, place, number):
     return row[:place] + (row[place] + number,) + row[place + 1:]
 
 
-def _count_predecessors(transition, member):
+def count_predecessors(transition, member, whole):
     """Return the number of the least markings from which firing leads to the member."""
     _, gives, moves = transition
     count = 1
@@ -230,7 +253,7 @@ def _count_predecessors(transition, member):
             sources = moves.count(place)
             if sources == 0:
                 return 0
-            count = count * comb(number - gives[place] + sources - 1, sources - 1)
+            count = count * (comb(number - gives[place] + sources - 1, sources - 1) if whole else sources)
     return count
 
 

@@ -51,7 +51,7 @@ def judge_barrier(net, start, goals, barrier):
             return False
     for member in barrier:
         for transition in net.transitions:
-            if predecessors(transition, member, known):
+            if predecessors(transition, member, known, True):
                 return False
     return least_count(start, barrier) is None
 
