@@ -3,16 +3,17 @@
 from heapq import heappop, heappush
 from math import comb
 
-from covernets.closed import Basis, basis_of, covers
-from covernets.nets import fire, runs_plainly
+from covernets.closed import Basis, basis_of, covers, in_closed
+from covernets.nets import enabled, fire, runs_plainly
 from covernets.runs import need_and_effect, run_from, shifted, spread
 
-# So many expansions are spent on a search for a short way, before places are pumped.
-SHORT_SEARCH = 2000
+# So many markings are tried forward from a marking, before a way from it is searched backward.
+TRIED = 100
 
-# Runs that are pumped come from at most so many nodes, and repeat other runs at most so often.
-LONGEST = 40
+# Runs that are pumped come from at most so many nodes, repeat other runs at most so often, and are no longer.
+MOST_NODES = 40
 FEW = 40
+LONGEST = 400
 
 
 class Node:
@@ -30,16 +31,15 @@ class Node:
 
 
 class Search:
-    """The nodes found backward from the goals, until nothing is new or one covers what is looked for.
+    """The nodes found backward from the goals, until nothing is new or the marking, if given, covers one.
 
-    With a limit, only so many transitions are tried, one by one. Without one, runs are pumped: a run that
-    makes places grow is repeated without end, so that the size of the numbers does not matter.
+    Runs are pumped: one that makes places grow is repeated as often as needed at once, so that it does not
+    matter how great the numbers are.
     """
 
-    def __init__(self, net, goals, marking, limit):
+    def __init__(self, net, goals, marking):
         self.net = net
         self.marking = marking
-        self.limit = limit
         self.found = None
         self.nodes = []
         self.ranks = {}
@@ -47,20 +47,17 @@ class Search:
         self.queue = []
         for goal in basis_of(goals):
             self.keep(Node(goal, (), None, None))
-        tried = 0
-        while self.queue and self.found is None and tried != limit:
+        while self.queue and self.found is None:
             _, at, index, whole = heappop(self.queue)
             if self.nodes[at].marking in self.basis.members:
                 self.expand(self.nodes[at], index, whole)
-                tried += 1
 
     def expand(self, node, index, whole):
         """Add the nodes from which firing the transition leads to the node."""
         for marking in predecessors(self.net.transitions[index], node.marking, self.basis, whole):
             before = Node(marking, (index,), None, node)
-            if self.limit is None:
-                for pump in _pumps(self.net, before):
-                    self.keep(pump)
+            for pump in _pumps(self.net, before):
+                self.keep(pump)
             self.keep(before)
 
     def keep(self, node):
@@ -131,13 +128,13 @@ def _pumps(net, node):
     pumps = []
     loop = Loop(net, node.marking)
     other = node
-    while other.after is not None and len(loop.parts) < LONGEST and loop.follow(other):
+    while other.after is not None and len(loop.parts) < MOST_NODES and loop.follow(other):
         other = other.after
         if loop.grow_to(node.marking):
             run = spread([(part[0], part[1]) for part in loop.parts])
             # Tokens that move may be back in their place only when the run has been fired several times.
             for times in range(1, 2 if runs_plainly(net, run) else net.places + 1):
-                pump = _pump(net, node, run * times)
+                pump = _pump(net, node, run * times) if len(run) * times <= LONGEST else None
                 if pump is not None:
                     pumps.append(pump)
                     break
@@ -259,17 +256,34 @@ def count_predecessors(transition, member, whole):
 
 def cover_basis(net, goals):
     """Return the cover basis of the goals: the least markings from which they can be covered."""
-    return sorted(Search(net, goals, None, None).basis.members)
+    return sorted(Search(net, goals, None).basis.members)
 
 
 def way(net, goals, marking):
     """Return a run, a list, that leads from the marking into the closed set of the goals, or None."""
-    search = Search(net, goals, marking, SHORT_SEARCH)
-    if search.found is None and search.queue:
-        search = Search(net, goals, marking, None)
-    if search.found is None:
-        return None
-    return _run_along(net, search.found, marking)
+    tried = _try_forward(net, goals, marking)
+    if len(tried) < TRIED or in_closed(goals, tried[-1][0]):
+        return tried[-1][1] if in_closed(goals, tried[-1][0]) else None
+    node = Search(net, goals, marking).found
+    return None if node is None else _run_along(net, node, marking)
+
+
+def _try_forward(net, goals, marking):
+    """Return pairs of a marking that is reachable and a run to it, up to the first one that covers a goal.
+
+    If they are less than those to be tried, each marking that is reachable is covered by one of them.
+    """
+    tried = [(tuple(marking), [])]
+    at = 0
+    while at < len(tried) < TRIED and not in_closed(goals, tried[-1][0]):
+        current, run = tried[at]
+        for index in range(len(net.transitions)):
+            if enabled(net, index, current) and not in_closed(goals, tried[-1][0]):
+                result = fire(net, index, current)
+                if not any([covers(other, result) for other, _ in tried]):
+                    tried.append((result, run + [index]))
+        at += 1
+    return tried
 
 
 def _run_along(net, node, marking):

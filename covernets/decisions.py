@@ -1,9 +1,14 @@
 """Decisions whether goals can be covered from some start marking, and their judges (points 16 to 18)."""
 
-from covernets.backward import cover_basis, predecessors, way
-from covernets.closed import Basis, in_closed
+from covernets.backward import count_predecessors, cover_basis, predecessors, way
+from covernets.closed import Basis, closed_within, in_closed
+from covernets.complements import complement_closed
 from covernets.errors import NotEnabled
+from covernets.limits import admits
 from covernets.runs import run_from
+
+# The markings one firing before a barrier are listed if they are not more than this.
+MANY = 100000
 
 
 class Decision:
@@ -45,15 +50,58 @@ def least_count(start, members):
 
 def judge_barrier(net, start, goals, barrier):
     """Return True if a judge takes the list of markings as a barrier, otherwise False."""
-    known = Basis(barrier)
-    for goal in goals:
-        if not known.contains(goal):
-            return False
-    for member in barrier:
+    if not closed_within(goals, barrier) or least_count(start, barrier) is not None:
+        return False
+    if _count_before(net, barrier) > MANY:
+        return _outside_stays_outside(net, barrier)
+    return _step_back_within(net, barrier)
+
+
+def _count_before(net, members):
+    """Return the number of the least markings one firing before the members, taken one by one."""
+    return sum([count_predecessors(step, member, True) for member in members for step in net.transitions])
+
+
+def _step_back_within(net, members):
+    """Return True if each marking of the step back is in the closed set of the members, otherwise False."""
+    known = Basis(members)
+    for member in members:
         for transition in net.transitions:
             if predecessors(transition, member, known, True):
                 return False
-    return least_count(start, barrier) is None
+    return True
+
+
+def _outside_stays_outside(net, members):
+    """Return True if no firing leads from outside into the closed set of the members, otherwise False."""
+    for limit in complement_closed(members, net.places):
+        for transition in net.transitions:
+            after = _most_after(transition, limit)
+            if after is not None and _admits_some(after, members):
+                return False
+    return True
+
+
+def _admits_some(limit, markings):
+    """Return True if the limit admits one of the markings, otherwise False."""
+    for marking in markings:
+        if admits(limit, marking):
+            return True
+    return False
+
+
+def _most_after(transition, limit):
+    """Return the limit of what firing leads to from the markings that the limit admits, or None if nothing."""
+    takes, gives, moves = transition
+    result = list(gives)
+    for place, number in enumerate(limit):
+        target = moves[place]
+        if number != -1 and number < takes[place]:
+            return None
+        if target != -1:
+            endless = number == -1 or result[target] == -1
+            result[target] = -1 if endless else result[target] + number - takes[place]
+    return tuple(result)
 
 
 def judge_run(net, start, goals, count, run):
