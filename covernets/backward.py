@@ -66,7 +66,7 @@ class Search:
             return
         # A node takes the turn of those that it replaces: else one that shrinks again and again would
         # never have its turn.
-        replaced = self.basis.add(node.marking)
+        replaced = self.basis.include(node.marking)
         rank = min([self.ranks[marking] for marking in replaced], default=len(self.nodes))
         self.ranks[node.marking] = rank
         for index, transition in enumerate(self.net.transitions):
@@ -192,7 +192,7 @@ def step_back(net, members):
     # The transitions with many least markings come last, when most of these are known.
     for _, index, member in sorted(tasks):
         for marking in predecessors(net.transitions[index], member, before, True):
-            before.add(marking)
+            before.include(marking)
     return sorted(before.members)
 
 

@@ -5,7 +5,7 @@ A closed set is given by a list of members: it contains all markings that cover 
 
 
 class Basis:
-    """The least ones of the markings that were added.
+    """The least ones of the markings that were included.
 
     They stand in a tree with a level for each place and a branch for each number of tokens in it, so
     that a marking need not be compared with all of them one by one.
@@ -15,14 +15,14 @@ class Basis:
         self.members = {}
         self.tree = {}
         for member in sorted(members):
-            self.add(member)
+            self.include(member)
 
     def contains(self, marking):
         """Return True if the marking covers one of the basis, otherwise False."""
         return _has_below(self.tree, marking, 0)
 
-    def add(self, marking):
-        """Add the marking, unless it covers one of the basis; return the list of those that it replaces."""
+    def include(self, marking):
+        """Include the marking, unless it covers one of the basis; return the list of those that it replaces."""
         if self.contains(marking):
             return []
         replaced = []
@@ -65,9 +65,9 @@ def _cut(tree, marking):
     branches = [tree]
     for number in marking[:-1]:
         branches.append(branches[-1][number])
-    for branch, number in zip(branches[::-1], marking[::-1]):
-        del branch[number]
-        if branch:
+    for place in reversed(range(len(marking))):
+        del branches[place][marking[place]]
+        if branches[place]:
             return
 
 

@@ -2,11 +2,12 @@
 
 from heapq import heappop, heappush
 
-from covernets.limits import frame_of, limit_in, within
+from covernets.closed import Basis
+from covernets.limits import limit_in, turned, within
 from covernets.nets import check_plain
 
 
-class Node:
+class LimitNode:
     """A limit that was reached from the limit of the node before.
 
     The transition index leads from there to a limit with which each pump, a pair (run, limit), begins:
@@ -19,7 +20,6 @@ class Node:
         self.index = index
         self.pumps = pumps
         self.rank = 0
-        self.greatest = True
 
 
 class LimitTree:
@@ -29,13 +29,14 @@ class LimitTree:
         self.net = net
         self.goal = goal
         self.found = None
+        self.basis = Basis([])
+        self.greatest = {}
         self.nodes = []
-        self.greatest = []
         self.queue = []
-        self.keep(Node(tuple(limit), None, -1, []))
+        self.keep(LimitNode(tuple(limit), None, -1, []))
         while self.queue and self.found is None:
             _, at = heappop(self.queue)
-            if self.nodes[at].greatest:
+            if turned(self.nodes[at].limit) in self.greatest:
                 self.expand(self.nodes[at])
 
     def expand(self, node):
@@ -47,15 +48,16 @@ class LimitTree:
 
     def keep(self, node):
         """Add the node, if its limit is not within that of another one."""
-        if limit_in(node.limit, [other.limit for other in self.greatest]):
+        row = turned(node.limit)
+        if self.basis.contains(row):
             return
         node.rank = len(self.nodes)
-        for other in self.greatest:
-            if within(other.limit, node.limit):
-                other.greatest = False
-                # Else a node that grows again and again would never have its turn.
-                node.rank = min(node.rank, other.rank)
-        self.greatest = [other for other in self.greatest if other.greatest] + [node]
+        for other in self.basis.include(row):
+            # A node takes the turn of those that it replaces: else one that grows again and again would
+            # never have its turn.
+            node.rank = min(node.rank, self.greatest[other].rank)
+            del self.greatest[other]
+        self.greatest[row] = node
         heappush(self.queue, (node.rank, len(self.nodes)))
         self.nodes.append(node)
         if self.goal is not None and within(self.goal, node.limit):
@@ -79,7 +81,7 @@ def _grown(before, index, limit):
             break
         run.append(node.index)
         node = node.before
-    return Node(result, before, index, pumps)
+    return LimitNode(result, before, index, pumps)
 
 
 def fire_limit(net, index, limit):
@@ -105,7 +107,7 @@ def _fired(transition, limit):
 def limit_set(net, limit):
     """Return the limit set of a limit: the frame of all that reachable markings cover."""
     check_plain(net)
-    return frame_of([node.limit for node in LimitTree(net, limit, None).greatest])
+    return sorted([node.limit for node in LimitTree(net, limit, None).greatest.values()])
 
 
 def judge_limits(net, limit, limits):

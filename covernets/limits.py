@@ -1,5 +1,7 @@
 """Limits and the sets of markings that lists of limits admit (points 8 and 9)."""
 
+from covernets.closed import Basis
+
 
 def admits(limit, marking):
     """Return True if the limit admits the marking, otherwise False."""
@@ -35,12 +37,13 @@ def limit_in(limit, limits):
 
 def frame_of(limits):
     """Return the frame of the markings that a list of limits admits, in ascending order."""
-    frame = []
-    for limit in limits:
-        if not limit_in(limit, frame):
-            frame = [other for other in frame if not within(other, limit)]
-            frame.append(limit)
-    return sorted(frame)
+    rows = {turned(limit): limit for limit in limits}
+    return sorted([rows[row] for row in Basis(list(rows)).members])
+
+
+def turned(limit):
+    """Return a row for a Basis: the rows that cover it are those of the limits within this limit."""
+    return tuple([(0, 0) if most == -1 else (1, -most) for most in limit])
 
 
 def frame_meet(first, second):

@@ -44,7 +44,7 @@ def _numbers(row, places, least, most):
 
 def is_plain(net):
     """Return True if the net is plain, otherwise False."""
-    return runs_plainly(net, range(len(net.transitions)))
+    return runs_plainly(net, list(range(len(net.transitions))))
 
 
 def runs_plainly(net, run):
