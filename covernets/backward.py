@@ -4,7 +4,8 @@ from heapq import heappop, heappush
 from math import comb
 
 from covernets.closed import Basis, basis_of, covers, in_closed
-from covernets.nets import enabled, fire, runs_plainly
+from covernets.nets import enabled, fire, is_plain, runs_plainly
+from covernets.plans import has_great_numbers, plan_to
 from covernets.runs import need_and_effect, run_from, shifted, spread
 
 # So many markings are tried forward from a marking, before a way from it is searched backward.
@@ -264,6 +265,9 @@ def way(net, goals, marking):
     tried = _try_forward(net, goals, marking)
     if len(tried) < TRIED or in_closed(goals, tried[-1][0]):
         return tried[-1][1] if in_closed(goals, tried[-1][0]) else None
+    if is_plain(net) and has_great_numbers(marking):
+        if True not in [plan_to(net, marking, goal)[0] for goal in goals]:
+            return None
     node = Search(net, goals, marking).found
     return None if node is None else _run_along(net, node, marking)
 

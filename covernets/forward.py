@@ -5,6 +5,7 @@ from heapq import heappop, heappush
 from covernets.closed import Basis
 from covernets.limits import limit_in, turned, within
 from covernets.nets import check_plain
+from covernets.plans import best_plan, has_great_numbers
 
 
 class LimitNode:
@@ -125,8 +126,25 @@ def judge_limits(net, limit, limits):
 
 def bounds(net, limit):
     """Return the tuple of the bounds of all places: the greatest numbers, or -1 where there is none."""
+    check_plain(net)
+    places = range(net.places)
+    if has_great_numbers(limit):
+        known = [_planned_bound(net, limit, place) for place in places]
+        if None not in known:
+            return tuple(known)
     limits = limit_set(net, limit)
-    return tuple([_greatest([other[place] for other in limits]) for place in range(net.places)])
+    return tuple([_greatest([other[place] for other in limits]) for place in places])
+
+
+def _planned_bound(net, limit, place):
+    """Return the bound of the place, or None if it is not known without the limit set."""
+    most, reached = best_plan(net, limit, place)
+    if reached == -1:
+        return -1
+    if most is None:
+        goal = tuple([-1 if other == place else 0 for other in range(net.places)])
+        return None if LimitTree(net, limit, goal).found is None else -1
+    return most if most == reached else None
 
 
 def _greatest(numbers):

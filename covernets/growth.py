@@ -2,6 +2,7 @@
 
 from covernets.forward import LimitTree
 from covernets.nets import check_plain
+from covernets.plans import has_great_numbers, plan_to
 from covernets.runs import need_and_effect
 
 
@@ -11,10 +12,17 @@ def growth(net, limit, goal, number):
     They lead to a marking that covers what the goal becomes if each -1 is replaced by the number.
     """
     check_plain(net)
+    wanted = tuple([number if most == -1 else most for most in goal])
+    if has_great_numbers(limit):
+        possible, parts = plan_to(net, limit, goal)
+        if not possible:
+            return None
+        if parts is not None:
+            return _least_start(net, parts, wanted), _joined(parts)
     node = LimitTree(net, limit, goal).found
     if node is None:
         return None
-    return _way_to(net, node, tuple([number if most == -1 else most for most in goal]))
+    return _way_to(net, node, wanted)
 
 
 def longest_reach(net, limit, place, number):
@@ -22,6 +30,14 @@ def longest_reach(net, limit, place, number):
     goal = [0] * net.places
     goal[place] = max(0, number)
     return growth(net, limit, tuple(goal), 0)
+
+
+def _least_start(net, parts, wanted):
+    """Return the least marking from which the parts can be fired and lead to what is wanted."""
+    for run, times in parts[::-1]:
+        least, change = need_and_effect(net, run)
+        wanted = _wanted_before(least, change, times, wanted)
+    return wanted
 
 
 def _way_to(net, node, wanted):

@@ -1,0 +1,177 @@
+"""Plans for plain nets whose limits have great numbers: how often transitions may be fired, and in what order.
+
+What a run changes is the sum of the effects of its transitions. So it can lead to a goal only if some numbers
+of firings do, which need not be whole: this is decided exactly, however great the numbers are. The order of
+the firings is only tried: a plan may be missed, but one that is found can be fired.
+"""
+
+from covernets.runs import need_and_effect, shifted, spread
+
+# From this number on, plans are made before limits are tried one by one.
+GREAT = 1000
+
+# So many rounds are planned, and rounds with so many firings are repeated.
+ROUNDS = 100
+LONGEST_ROUND = 400
+
+
+def has_great_numbers(limit):
+    """Return True if some number of the limit is great, otherwise False."""
+    return max(limit) >= GREAT
+
+
+def best_plan(net, limit, place):
+    """Return the pair of a number that the place can never exceed, None if not known, and of a number it can have."""
+    possible = _possible(net, limit)
+    finite = [other for other, most in enumerate(limit) if most != -1]
+    effects = [need_and_effect(net, (index,))[1] for index in possible]
+    rows = [[-change[other] for change in effects] for other in finite]
+    best = maximize(rows, [limit[other] for other in finite], [change[place] for change in effects])
+    if best is None:
+        return None, limit[place]
+    counts, value, divisor = best
+    _, reached = _fired_by_plan(net, limit, possible, [count // divisor for count in counts])
+    return limit[place] + value // divisor, reached[place]
+
+
+def plan_to(net, limit, goal):
+    """Return a pair: False if the goal is within no limit of the limit set, else True; and parts to it, or None."""
+    finite = [place for place, most in enumerate(limit) if most != -1]
+    growing = [place for place in finite if goal[place] == -1]
+    for place in growing:
+        if best_plan(net, limit, place)[0] is not None:
+            return False, None
+    possible = _possible(net, limit)
+    effects = [need_and_effect(net, (index,))[1] for index in possible]
+    # The last variable tells which part of the goal is reached, at most the whole goal.
+    rows = [[-change[place] for change in effects] + [max(0, goal[place])] for place in finite]
+    rows.append([0] * len(possible) + [1])
+    aims = [0] * len(possible) + [1]
+    counts, value, divisor = maximize(rows, [limit[place] for place in finite] + [1], aims)
+    if value < divisor:
+        return False, None
+    parts, reached = _fired_by_plan(net, limit, possible, [-(-count // divisor) for count in counts[:-1]])
+    missed = [place for place in finite if reached[place] < goal[place]]
+    return True, None if missed or growing else parts
+
+
+def _possible(net, limit):
+    """Return the indexes of the transitions all of whose places can have a token."""
+    marked = [most != 0 for most in limit]
+    possible = []
+    grows = True
+    while grows:
+        grows = False
+        for index, (takes, gives, _) in enumerate(net.transitions):
+            lacking = [place for place, number in enumerate(takes) if number > 0 and not marked[place]]
+            if index not in possible and not lacking:
+                possible.append(index)
+                marked = [had or number > 0 for had, number in zip(marked, gives)]
+                grows = True
+    return sorted(possible)
+
+
+def _fired_by_plan(net, limit, indexes, counts):
+    """Return the parts with which transitions are fired as often as told, if possible, and the limit they lead to."""
+    left = {index: count for index, count in zip(indexes, counts)}
+    parts = []
+    for _ in range(ROUNDS):
+        round_parts = []
+        for index in indexes:
+            times = _times_possible(net, limit, (index,), left[index])
+            if times > 0:
+                left[index] -= times
+                round_parts.append(((index,), times))
+                limit = _after(net, limit, (index,), times)
+        parts.extend(round_parts)
+        if not round_parts:
+            break
+        if sum([times for _, times in round_parts]) <= LONGEST_ROUND:
+            run = tuple(spread(round_parts))
+            most = min([left[part[0]] // times for part, times in round_parts])
+            times = _times_possible(net, limit, run, most)
+            if times > 0:
+                left = {index: count - times * run.count(index) for index, count in left.items()}
+                parts.append((run, times))
+                limit = _after(net, limit, run, times)
+    return parts, limit
+
+
+def _times_possible(net, limit, run, most):
+    """Return how often the run can be fired from the limit, at most so often."""
+    least, change = need_and_effect(net, run)
+    times = most
+    for number, low, step in zip(limit, least, change):
+        if number != -1 and number < low:
+            return 0
+        if number != -1 and step < 0:
+            times = min(times, (number - low) // -step + 1)
+    return times
+
+
+def _after(net, limit, run, times):
+    """Return the limit after firing the run so many times."""
+    _, change = need_and_effect(net, run)
+    return tuple([-1 if most == -1 else number for most, number in zip(limit, shifted(limit, change, times))])
+
+
+def maximize(rows, most, aims):
+    """Return numbers x that are not negative with rows * x at most what is told, and aims * x greatest.
+
+    They are returned as (numbers, value, divisor): the numbers and the value aims * x are divided by the
+    divisor. Return None if there is no greatest value. The numbers in most are not negative.
+    """
+    table = []
+    for at, row in enumerate(rows):
+        table.append(list(row) + [1 if other == at else 0 for other in range(len(rows))] + [most[at]])
+    table.append([-aim for aim in aims] + [0] * (len(rows) + 1))
+    basis = list(range(len(aims), len(aims) + len(rows)))
+    divisor = 1
+    column = _entering(table)
+    while column != -1:
+        at = _leaving(table, basis, column)
+        if at == -1:
+            return None
+        table, divisor = _pivoted(table, at, column, divisor), table[at][column]
+        basis[at] = column
+        column = _entering(table)
+    numbers = [0] * len(aims)
+    for at, column in enumerate(basis):
+        if column < len(aims):
+            numbers[column] = table[at][-1]
+    return numbers, table[-1][-1], divisor
+
+
+def _entering(table):
+    """Return the first column with which the value grows, or -1."""
+    for column, number in enumerate(table[-1][:-1]):
+        if number < 0:
+            return column
+    return -1
+
+
+def _leaving(table, basis, column):
+    """Return the row that bounds the growth of the column first, or -1."""
+    best = -1
+    for at in range(len(basis)):
+        if table[at][column] > 0:
+            if best == -1:
+                best = at
+            # Ties are broken by the least column, so that no basis comes twice.
+            here, there = table[at][-1] * table[best][column], table[best][-1] * table[at][column]
+            if (here, basis[at]) < (there, basis[best]):
+                best = at
+    return best
+
+
+def _pivoted(table, row, column, divisor):
+    """Return the table in which the column belongs to the row; all its numbers stay whole."""
+    pivot = table[row][column]
+    result = []
+    for at, line in enumerate(table):
+        if at == row:
+            result.append(line)
+        else:
+            factor = line[column]
+            result.append([(pivot * one - factor * other) // divisor for one, other in zip(line, table[row])])
+    return result
