@@ -9,7 +9,10 @@ from covernets.plans import has_great_numbers, plan_to
 from covernets.runs import need_and_effect, run_from, shifted, spread
 
 # So many markings are tried forward from a marking, before a way from it is searched backward.
-TRIED = 100
+TRIED = 60
+
+# A plan is taken as a way if it is not longer than this.
+LONGEST_PLAN = 1000000
 
 # Runs that are pumped come from at most so many nodes, repeat other runs at most so often, and are no longer.
 MOST_NODES = 40
@@ -99,10 +102,11 @@ class Loop:
         """Fire the run of the node; return False if this does not work."""
         plain = runs_plainly(self.net, node.run)
         times = 1 if node.gains is None else _times(node, node.marking)
-        if node.gains is not None and plain and times > FEW:
+        if times > FEW and plain:
+            # It is fired more often as soon as something is lacking.
             times = 0
         wanted = need_and_effect(self.net, node.run)[0] if plain else node.marking
-        if times > FEW or not self.grow_to(wanted):
+        if times * len(node.run) > LONGEST or not self.grow_to(wanted):
             return False
         self.current = run_from(self.net, self.current, list(node.run) * times)
         if not plain:
@@ -114,13 +118,19 @@ class Loop:
         """Fire runs more often until what is wanted is covered; return False if this does not work."""
         for place, number in enumerate(wanted):
             lack = number - self.current[place]
-            helpful = [part for part in self.parts if lack > 0 and part[2] is not None and part[2][place] > 0]
-            if lack > 0 and (not helpful or lack > FEW):
+            if lack > 0 and not self.grow(place, lack):
                 return False
-            for part in helpful[-1:]:
-                more = -(-lack // part[2][place])
-                part[1] += more
-                self.current = shifted(self.current, part[2], more)
+        return True
+
+    def grow(self, place, lack):
+        """Fire a run more often until the place has so many tokens more; return False if this does not work."""
+        helpful = [part for part in self.parts if part[2] is not None and part[2][place] > 0]
+        if not helpful or lack > FEW:
+            return False
+        part = helpful[-1]
+        more = -(-lack // part[2][place])
+        part[1] += more
+        self.current = shifted(self.current, part[2], more)
         return True
 
 
@@ -134,11 +144,9 @@ def _pumps(net, node):
         if loop.grow_to(node.marking):
             run = spread([(part[0], part[1]) for part in loop.parts])
             # Tokens that move may be back in their place only when the run has been fired several times.
-            for times in range(1, 2 if runs_plainly(net, run) else net.places + 1):
-                pump = _pump(net, node, run * times) if len(run) * times <= LONGEST else None
-                if pump is not None:
-                    pumps.append(pump)
-                    break
+            rounds = 1 if runs_plainly(net, run) else net.places
+            found = [_pump(net, node, run * times) for times in range(1, rounds + 1)]
+            pumps.extend([pump for pump in found if pump is not None])
     return pumps
 
 
@@ -147,6 +155,8 @@ def _pump(net, node, run):
 
     The run leads from the marking of the node to one that covers it.
     """
+    if len(run) > LONGEST:
+        return None
     last = run_from(net, node.marking, run)
     growing = []
     for place, number in enumerate(node.marking):
@@ -262,32 +272,48 @@ def cover_basis(net, goals):
 
 def way(net, goals, marking):
     """Return a run, a list, that leads from the marking into the closed set of the goals, or None."""
-    tried = _try_forward(net, goals, marking)
-    if len(tried) < TRIED or in_closed(goals, tried[-1][0]):
-        return tried[-1][1] if in_closed(goals, tried[-1][0]) else None
+    markings, runs = _try_forward(net, goals, tuple(marking))
+    if in_closed(goals, markings[-1]):
+        return runs[-1]
+    if len(markings) < TRIED:
+        return None
     if is_plain(net) and has_great_numbers(marking):
-        if True not in [plan_to(net, marking, goal)[0] for goal in goals]:
+        plans = [plan_to(net, marking, goal) for goal in goals]
+        if True not in [possible for possible, _ in plans]:
             return None
+        for _, parts in plans:
+            if parts is not None and sum([len(run) * times for run, times in parts]) <= LONGEST_PLAN:
+                return spread(parts)
     node = Search(net, goals, marking).found
     return None if node is None else _run_along(net, node, marking)
 
 
 def _try_forward(net, goals, marking):
-    """Return pairs of a marking that is reachable and a run to it, up to the first one that covers a goal.
+    """Return markings that are reachable, up to the first one that covers a goal, and the runs to them.
 
     If they are less than those to be tried, each marking that is reachable is covered by one of them.
     """
-    tried = [(tuple(marking), [])]
+    markings = [marking]
+    runs = [[]]
     at = 0
-    while at < len(tried) < TRIED and not in_closed(goals, tried[-1][0]):
-        current, run = tried[at]
+    while at < len(markings) < TRIED and not in_closed(goals, markings[-1]):
         for index in range(len(net.transitions)):
-            if enabled(net, index, current) and not in_closed(goals, tried[-1][0]):
-                result = fire(net, index, current)
-                if not any([covers(other, result) for other, _ in tried]):
-                    tried.append((result, run + [index]))
+            if enabled(net, index, markings[at]) and not in_closed(goals, markings[-1]):
+                result = fire(net, index, markings[at])
+                # What another marking covers leads to nothing more than that one.
+                if not _is_covered(result, markings):
+                    markings.append(result)
+                    runs.append(runs[at] + [index])
         at += 1
-    return tried
+    return markings, runs
+
+
+def _is_covered(marking, others):
+    """Return True if one of the others covers the marking, otherwise False."""
+    for other in others:
+        if covers(other, marking):
+            return True
+    return False
 
 
 def _run_along(net, node, marking):

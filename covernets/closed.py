@@ -25,17 +25,26 @@ class Basis:
         """Include the marking, unless it covers one of the basis; return the list of those that it replaces."""
         if self.contains(marking):
             return []
-        replaced = []
-        _collect_above(self.tree, marking, 0, replaced)
+        replaced = _all_above(self.tree, marking, 0)
         for other in replaced:
-            del self.members[other]
-            _cut(self.tree, other)
+            self.drop(other)
         self.members[marking] = True
         branch = self.tree
         for number in marking[:-1]:
             branch = branch.setdefault(number, {})
         branch[marking[-1]] = marking
         return replaced
+
+    def drop(self, marking):
+        """Drop a marking of the basis, and the branches of the tree that are empty then."""
+        del self.members[marking]
+        branches = [self.tree]
+        for number in marking[:-1]:
+            branches.append(branches[-1][number])
+        for place in reversed(range(len(marking))):
+            del branches[place][marking[place]]
+            if branches[place]:
+                return
 
 
 def _has_below(branch, marking, place):
@@ -48,27 +57,14 @@ def _has_below(branch, marking, place):
     return False
 
 
-def _collect_above(branch, marking, place, found):
-    """Append the markings of the branch that have, from the place on, at least the numbers of the marking."""
-    least = marking[place]
+def _all_above(branch, marking, place):
+    """Return the markings of the branch that have, from the place on, at least the numbers of the marking."""
+    found = []
     last = place == len(marking) - 1
     for number, smaller in branch.items():
-        if number >= least:
-            if last:
-                found.append(smaller)
-            else:
-                _collect_above(smaller, marking, place + 1, found)
-
-
-def _cut(tree, marking):
-    """Remove the marking, and the branches that are empty then, from the tree."""
-    branches = [tree]
-    for number in marking[:-1]:
-        branches.append(branches[-1][number])
-    for place in reversed(range(len(marking))):
-        del branches[place][marking[place]]
-        if branches[place]:
-            return
+        if number >= marking[place]:
+            found.extend([smaller] if last else _all_above(smaller, marking, place + 1))
+    return found
 
 
 def covers(first, second):

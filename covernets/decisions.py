@@ -53,8 +53,8 @@ def judge_barrier(net, start, goals, barrier):
     if not closed_within(goals, barrier) or least_count(start, barrier) is not None:
         return False
     if _count_before(net, barrier) > MANY:
-        return _outside_stays_outside(net, barrier)
-    return _step_back_within(net, barrier)
+        return outside_stays_outside(net, barrier)
+    return step_back_within(net, barrier)
 
 
 def _count_before(net, members):
@@ -62,7 +62,7 @@ def _count_before(net, members):
     return sum([count_predecessors(step, member, True) for member in members for step in net.transitions])
 
 
-def _step_back_within(net, members):
+def step_back_within(net, members):
     """Return True if each marking of the step back is in the closed set of the members, otherwise False."""
     known = Basis(members)
     for member in members:
@@ -72,7 +72,7 @@ def _step_back_within(net, members):
     return True
 
 
-def _outside_stays_outside(net, members):
+def outside_stays_outside(net, members):
     """Return True if no firing leads from outside into the closed set of the members, otherwise False."""
     for limit in complement_closed(members, net.places):
         for transition in net.transitions:

@@ -1,14 +1,17 @@
 """Plans for plain nets whose limits have great numbers: how often transitions may be fired, and in what order.
 
-What a run changes is the sum of the effects of its transitions. So it can lead to a goal only if some numbers
-of firings do, which need not be whole: this is decided exactly, however great the numbers are. The order of
-the firings is only tried: a plan may be missed, but one that is found can be fired.
+What a run changes is the sum of the effects of its transitions. So a run leads to a goal only if some numbers
+of firings do, and these can be found however great they are. The order of the firings is only tried: a plan
+may be missed, but one that is found can be fired.
 """
 
 from covernets.runs import need_and_effect, shifted, spread
 
 # From this number on, plans are made before limits are tried one by one.
 GREAT = 1000
+
+# So many times, numbers of firings that are not whole are cut off.
+CUTS = 40
 
 # So many rounds are planned, and rounds with so many firings are repeated.
 ROUNDS = 100
@@ -29,9 +32,9 @@ def best_plan(net, limit, place):
     best = maximize(rows, [limit[other] for other in finite], [change[place] for change in effects])
     if best is None:
         return None, limit[place]
-    counts, value, divisor = best
-    _, reached = _fired_by_plan(net, limit, possible, [count // divisor for count in counts])
-    return limit[place] + value // divisor, reached[place]
+    counts, gain = best
+    _, reached = _fired_by_plan(net, limit, possible, counts)
+    return limit[place] + gain, reached[place]
 
 
 def plan_to(net, limit, goal):
@@ -43,16 +46,16 @@ def plan_to(net, limit, goal):
             return False, None
     possible = _possible(net, limit)
     effects = [need_and_effect(net, (index,))[1] for index in possible]
-    # The last variable tells which part of the goal is reached, at most the whole goal.
+    # The last variable is 1 if the goal is reached, else 0.
     rows = [[-change[place] for change in effects] + [max(0, goal[place])] for place in finite]
     rows.append([0] * len(possible) + [1])
     aims = [0] * len(possible) + [1]
-    counts, value, divisor = maximize(rows, [limit[place] for place in finite] + [1], aims)
-    if value < divisor:
+    counts, value = maximize(rows, [limit[place] for place in finite] + [1], aims)
+    if value == 0:
         return False, None
-    parts, reached = _fired_by_plan(net, limit, possible, [-(-count // divisor) for count in counts[:-1]])
+    parts, reached = _fired_by_plan(net, limit, possible, counts[:-1])
     missed = [place for place in finite if reached[place] < goal[place]]
-    return True, None if missed or growing else parts
+    return True, parts if not missed and not growing else None
 
 
 def _possible(net, limit):
@@ -116,10 +119,11 @@ def _after(net, limit, run, times):
 
 
 def maximize(rows, most, aims):
-    """Return numbers x that are not negative with rows * x at most what is told, and aims * x greatest.
+    """Return whole numbers x, none negative, with rows * x at most what is told, and aims * x greatest.
 
-    They are returned as (numbers, value, divisor): the numbers and the value aims * x are divided by the
-    divisor. Return None if there is no greatest value. The numbers in most are not negative.
+    Return them as (numbers, value): the value is aims * x at best. If it took too many cuts to find whole
+    numbers, what is returned is a value that is not exceeded, and other numbers, perhaps too great ones.
+    Return None if there is no greatest value. The numbers in most are not negative.
     """
     table = []
     for at, row in enumerate(rows):
@@ -132,14 +136,15 @@ def maximize(rows, most, aims):
         at = _leaving(table, basis, column)
         if at == -1:
             return None
-        table, divisor = _pivoted(table, at, column, divisor), table[at][column]
+        table, divisor = _pivoted(table, at, column, divisor)
         basis[at] = column
         column = _entering(table)
+    table, basis, divisor = _with_cuts(table, basis, divisor)
     numbers = [0] * len(aims)
     for at, column in enumerate(basis):
         if column < len(aims):
-            numbers[column] = table[at][-1]
-    return numbers, table[-1][-1], divisor
+            numbers[column] = table[at][-1] // divisor
+    return numbers, table[-1][-1] // divisor
 
 
 def _entering(table):
@@ -165,13 +170,52 @@ def _leaving(table, basis, column):
 
 
 def _pivoted(table, row, column, divisor):
-    """Return the table in which the column belongs to the row; all its numbers stay whole."""
+    """Return the table in which the column belongs to the row, and its divisor; all numbers stay whole."""
     pivot = table[row][column]
+    sign = 1 if pivot > 0 else -1
     result = []
     for at, line in enumerate(table):
         if at == row:
-            result.append(line)
+            result.append([sign * number for number in line])
         else:
             factor = line[column]
-            result.append([(pivot * one - factor * other) // divisor for one, other in zip(line, table[row])])
-    return result
+            pairs = zip(line, table[row])
+            result.append([sign * (pivot * number - factor * other) // divisor for number, other in pairs])
+    return result, abs(pivot)
+
+
+def _with_cuts(table, basis, divisor):
+    """Return the table, its basis and its divisor after cuts that no whole numbers exceed."""
+    columns = list(basis)
+    for _ in range(CUTS):
+        fractions = [at for at, line in enumerate(table) if line[-1] % divisor != 0]
+        if not fractions:
+            break
+        cut = [-(number % divisor) for number in table[fractions[-1]]]
+        lines = [line[:-1] + [0] + line[-1:] for line in table]
+        table = lines[:-1] + [cut[:-1] + [divisor] + cut[-1:]] + lines[-1:]
+        columns.append(len(cut) - 1)
+        lacking = _lacking(table, columns)
+        while lacking != -1:
+            column = _least_loss(table, lacking)
+            table, divisor = _pivoted(table, lacking, column, divisor)
+            columns[lacking] = column
+            lacking = _lacking(table, columns)
+    return table, columns, divisor
+
+
+def _lacking(table, basis):
+    """Return a row with a negative number at its end, or -1."""
+    rows = [(column, at) for at, column in enumerate(basis) if table[at][-1] < 0]
+    # The least column is taken, so that no basis comes twice.
+    return min(rows)[1] if rows else -1
+
+
+def _least_loss(table, row):
+    """Return the column with which the row is mended with the least loss of value."""
+    best = -1
+    for column, number in enumerate(table[row][:-1]):
+        if number < 0:
+            if best == -1 or table[-1][column] * table[row][best] > table[-1][best] * number:
+                best = column
+    return best

@@ -1,8 +1,10 @@
 import unittest
 
-from covernets.backward import cover_basis
-from covernets.closed import in_closed
-from covernets.decisions import Decision, decide, judge_barrier, judge_run
+from covernets.backward import cover_basis, step_back
+from covernets.closed import closed_within, in_closed
+from covernets.decisions import (
+    Decision, decide, judge_barrier, judge_run, outside_stays_outside, step_back_within,
+)
 from covernets.forward import limit_set
 from covernets.limits import within
 from covernets.nets import Net
@@ -117,6 +119,27 @@ class JudgeBarrierTest(unittest.TestCase):
         self.assertIs(judge_barrier(NET, ((3, 0), 1), [(0, 2)], barrier), False)
         self.assertIs(judge_barrier(NET, ((3, 0), 1), [(HUGE, 0)], [(HUGE, 0)]), True)
         self.assertIs(judge_barrier(NET, ((3, 0), 0), [(HUGE, 0)], [(HUGE, 0)]), False)
+
+    def test_great_numbers_from_several_places(self):
+        # All tokens go to place 0, so what is just outside of the set can be spread in very many ways.
+        net = Net(2, [((0, 0), (0, 0), (0, 0))])
+        goals, nothing = [(HUGE, 0)], ((0, 0), -1)
+        self.assertIs(judge_barrier(net, nothing, goals, [(HUGE, 0)]), False)
+        self.assertIs(judge_barrier(net, nothing, goals, [(HUGE, 0), (0, HUGE)]), False)
+        self.assertIs(judge_barrier(net, nothing, goals, [(HUGE, 0), (0, 1)]), True)
+        self.assertIs(judge_barrier(net, ((0, 0), 1), goals, [(HUGE, 0), (0, 1)]), False)
+        losing = Net(3, [((0, 2, 0), (0, 0, 3), (2, 2, -1))])
+        self.assertIs(judge_barrier(losing, ((0, 0, 0), 1), [(0, 0, HUGE)], [(0, 0, HUGE), (1, 0, 0)]), False)
+        self.assertIs(judge_barrier(losing, ((0, 1, 5), 2), [(1, 0, 3)], [(1, 0, 0), (0, 2, 0)]), True)
+        self.assertIs(judge_barrier(losing, ((0, 0, 5), -1), [(0, 0, HUGE)], [(0, 0, HUGE), (0, 2, 0)]), True)
+
+    def test_both_ways_to_judge_agree(self):
+        for seed in range(150):
+            net = small_net(seed, 3, 2, 2, 4)
+            for barrier in ([(1, 0, 2), (0, 2, 0)], cover_basis(net, [(1, 1, 1)]), [(3, 0, 0), (0, 0, 1), (0, 4, 0)]):
+                expected = closed_within(step_back(net, barrier), barrier)
+                self.assertIs(step_back_within(net, barrier), expected)
+                self.assertIs(outside_stays_outside(net, barrier), expected)
 
     def test_empty_lists(self):
         self.assertIs(judge_barrier(NET, ((3, 0), 0), [], []), True)

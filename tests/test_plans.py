@@ -1,15 +1,15 @@
+import random
 import unittest
-from fractions import Fraction
 
 from covernets.errors import NotPlain
 from covernets.forward import bounds, limit_set
 from covernets.growth import growth, longest_reach
 from covernets.limits import limit_in
 from covernets.plans import best_plan, maximize, plan_to
-from covernets.runs import fire_parts
+from covernets.runs import fire_parts, run_from
 from covernets.backward import way
 from covernets.nets import Net
-from helpers import HUGE, plain_net, small_net
+from helpers import HUGE, box, plain_net, small_net
 
 # One token of place 0 becomes two of place 1, and one of each becomes one of place 2.
 NET = plain_net(3, [((1, 0, 0), (0, 2, 0)), ((1, 1, 0), (0, 0, 1))])
@@ -18,25 +18,36 @@ NET = plain_net(3, [((1, 0, 0), (0, 2, 0)), ((1, 1, 0), (0, 0, 1))])
 class MaximizeTest(unittest.TestCase):
     def test_ordinary(self):
         # At most 4 of the first, 2 * the second at most 12, 3 and 2 times them at most 18.
-        numbers, value, divisor = maximize([[1, 0], [0, 2], [3, 2]], [4, 12, 18], [3, 5])
-        self.assertEqual([Fraction(number, divisor) for number in numbers], [2, 6])
-        self.assertEqual(Fraction(value, divisor), 36)
+        self.assertEqual(maximize([[1, 0], [0, 2], [3, 2]], [4, 12, 18], [3, 5]), ([2, 6], 36))
 
-    def test_fractions(self):
-        numbers, value, divisor = maximize([[2, 1], [1, 3]], [1, 1], [1, 1])
-        self.assertEqual([Fraction(number, divisor) for number in numbers], [Fraction(2, 5), Fraction(1, 5)])
-        self.assertEqual(Fraction(value, divisor), Fraction(3, 5))
+    def test_whole_numbers(self):
+        self.assertEqual(maximize([[2, 1], [1, 3]], [1, 1], [1, 1])[1], 0)
+        self.assertEqual(maximize([[3]], [HUGE + 1], [2]), ([HUGE // 3], HUGE // 3 * 2))
+        self.assertEqual(maximize([[2, 2]], [2 * HUGE + 1], [1, 1])[1], HUGE)
 
     def test_no_greatest_value(self):
         self.assertIsNone(maximize([[1, -1]], [3], [1, 0]))
 
     def test_nothing_to_gain(self):
         self.assertEqual(maximize([[1, 1]], [3], [-1, 0])[1], 0)
-        self.assertEqual(maximize([], [], [])[1], 0)
+        self.assertEqual(maximize([], [], []), ([], 0))
 
     def test_many_ties(self):
-        numbers, value, divisor = maximize([[1, 1], [1, -1], [-1, 1], [2, 1]], [0, 0, 0, 0], [1, 1])
-        self.assertEqual((numbers, value), ([0, 0], 0))
+        self.assertEqual(maximize([[1, 1], [1, -1], [-1, 1], [2, 1]], [0, 0, 0, 0], [1, 1]), ([0, 0], 0))
+
+    def test_all_whole_numbers_of_small_cases(self):
+        chooser = random.Random(5)
+        for _ in range(300):
+            rows = [[chooser.randint(-2, 4) for _ in range(3)] for _ in range(2)] + [[1, 1, 1]]
+            most = [chooser.randint(0, 9), chooser.randint(0, 9), 6]
+            aims = [chooser.randint(-3, 5) for _ in range(3)]
+            best = max(
+                sum(aim * number for aim, number in zip(aims, numbers)) for numbers in box(3, 6)
+                if all(sum(map(int.__mul__, row, numbers)) <= bound for row, bound in zip(rows, most))
+            )
+            numbers, value = maximize(rows, most, aims)
+            self.assertEqual(value, best)
+            self.assertEqual(sum(aim * number for aim, number in zip(aims, numbers)), best)
 
 
 class PlansTest(unittest.TestCase):
@@ -67,6 +78,7 @@ class PlansTest(unittest.TestCase):
         self.assertEqual(bounds(NET, (3 * HUGE, 0, 0)), (3 * HUGE, 6 * HUGE, 2 * HUGE))
         self.assertEqual(bounds(NET, (3 * HUGE, -1, 0)), (3 * HUGE, -1, 3 * HUGE))
         self.assertEqual(bounds(plain_net(2, [((2, 0), (0, 1))]), (HUGE + 1, 0)), (HUGE + 1, HUGE // 2))
+        self.assertEqual(bounds(plain_net(2, [((3, 0), (0, 2))]), (HUGE + 1, 0)), (HUGE + 1, HUGE // 3 * 2))
         growing = plain_net(3, [((1, 0, 0), (0, 1, 0)), ((0, 1, 0), (0, 1, 1))])
         self.assertEqual(bounds(growing, (HUGE, 0, 0)), (HUGE, HUGE, -1))
         for number in (999, 1000, 1001):
@@ -102,6 +114,10 @@ class PlansTest(unittest.TestCase):
         self.assertIsNone(longest_reach(NET, (3 * HUGE, 0, 0), 2, 2 * HUGE + 1))
         start, parts = longest_reach(NET, (3 * HUGE, 0, 0), 2, 2 * HUGE)
         self.assertEqual(fire_parts(NET, start, parts)[2], 2 * HUGE)
+
+    def test_ways_with_great_numbers(self):
+        run = way(NET, [(0, 0, 2 * HUGE + 1), (0, 0, 5000)], (3 * HUGE, 0, 0))
+        self.assertGreaterEqual(run_from(NET, (3 * HUGE, 0, 0), run)[2], 5000)
 
     def test_no_way_with_great_numbers(self):
         self.assertIsNone(way(NET, [(0, 0, 2 * HUGE + 1), (1, 6 * HUGE, 0)], (3 * HUGE, 0, 0)))
