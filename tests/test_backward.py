@@ -132,6 +132,15 @@ class WayTest(unittest.TestCase):
         net = plain_net(2, [((1, 0), (1, 1))])
         self.assertEqual(way(net, [(0, 5000)], (1, 0)), [0] * 5000)
 
+    def test_long_ways_of_nets_that_move(self):
+        net = Net(3, [((0, 1, 0), (2, 1, 0), (0, 1, -1))])
+        self.assertEqual(way(net, [(501, 1, 0)], (0, 1, 7)), [0] * 251)
+        self.assertEqual(way(net, [(501, 1, 0)], (200, 1, 7)), [0] * 151)
+        self.assertIsNone(way(net, [(501, 1, 1)], (200, 1, 7)))
+        swap = Net(2, [((0, 0), (1, 0), (1, 0))])
+        run = way(swap, [(300, 300)], (7, 0))
+        self.assertTrue(in_closed([(300, 300)], run_from(swap, (7, 0), run)))
+
     def test_great_numbers(self):
         net = plain_net(2, [((0, 1), (1, 1)), ((0, 0), (0, 1))])
         run = way(net, [(HUGE, 0)], (HUGE - 3, 0))

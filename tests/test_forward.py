@@ -125,6 +125,11 @@ class BoundsTest(unittest.TestCase):
         self.assertEqual(bounds(plain_net(1, [((1,), (0,))]), (HUGE,)), (HUGE,))
         self.assertEqual(bounds(plain_net(2, [((1, 0), (0, 2))]), (3, 1)), (3, 7))
 
+    def test_no_bound_in_one_limit_only(self):
+        net = plain_net(3, [((1, 0, 0), (0, 1, 0)), ((0, 1, 0), (0, 1, 1)), ((1, 0, 0), (0, 0, 3))])
+        self.assertEqual(limit_set(net, (1, 0, 0)), [(0, 1, -1), (1, 0, 0)])
+        self.assertEqual(bounds(net, (1, 0, 0)), (1, 1, -1))
+
     def test_small_nets_with_all_their_markings(self):
         for seed in range(200):
             net = small_net(seed, 3, 3, 2, 0)

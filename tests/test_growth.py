@@ -53,6 +53,14 @@ class GrowthTest(ReachCase):
             self.assert_growth(net, (-1, 0), (2, -1), number)
             self.assert_growth(net, (-1, -1), (-1, 4), number)
 
+    def test_what_is_needed_but_not_used_up(self):
+        # Each firing needs five tokens, but uses up one only: ten firings need fourteen.
+        net = plain_net(2, [((5, 0), (4, 1))])
+        self.assert_growth(net, (-1, 0), (0, -1), 10)
+        self.assert_growth(net, (-1, 0), (-1, -1), HUGE)
+        self.assertIsNone(growth(net, (13, 0), (0, 10), 0))
+        self.assert_growth(net, (14, 0), (4, 10), 0)
+
     def test_goals_within_no_limit(self):
         self.assertIsNone(growth(EXAMPLE, (1, 0, 0), (1, 0, 1), 5))
         self.assertIsNone(growth(EXAMPLE, (1, 0, 0), (-1, 0, 0), 0))

@@ -84,6 +84,10 @@ class PlansTest(unittest.TestCase):
         for number in (999, 1000, 1001):
             self.assertEqual(bounds(plain_net(2, [((1, 0), (0, 1))]), (number, 0)), (number, number))
 
+    def test_bounds_that_no_plan_reaches(self):
+        # The last token of place 0 cannot be used.
+        self.assertEqual(bounds(plain_net(2, [((2, 0), (1, 2))]), (1500, 0)), (1500, 2998))
+
     def test_catalysts(self):
         # The token of place 2 goes to and fro; each time, one of place 0 becomes one of place 1.
         net = plain_net(4, [((1, 0, 1, 0), (0, 0, 0, 1)), ((0, 0, 0, 1), (0, 1, 1, 0))])
