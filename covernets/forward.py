@@ -127,7 +127,7 @@ def judge_limits(net, limit, limits):
 def bounds(net, limit):
     """Return the tuple of the bounds of all places: the greatest numbers, or -1 where there is none."""
     check_plain(net)
-    places = range(net.places)
+    places = list(range(net.places))
     if has_great_numbers(limit):
         known = [_planned_bound(net, limit, place) for place in places]
         if None not in known:

@@ -179,8 +179,7 @@ def _pivoted(table, row, column, divisor):
             result.append([sign * number for number in line])
         else:
             factor = line[column]
-            pairs = zip(line, table[row])
-            result.append([sign * (pivot * number - factor * other) // divisor for number, other in pairs])
+            result.append([sign * (pivot * one - factor * other) // divisor for one, other in zip(line, table[row])])
     return result, abs(pivot)
 
 
