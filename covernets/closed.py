@@ -25,15 +25,20 @@ class Basis:
         """Include the marking, unless it covers one of the basis; return the list of those that it replaces."""
         if self.contains(marking):
             return []
-        replaced = _all_above(self.tree, marking, 0)
-        for other in replaced:
-            self.drop(other)
+        replaced = self.drop_above(marking)
         self.members[marking] = True
         branch = self.tree
         for number in marking[:-1]:
             branch = branch.setdefault(number, {})
         branch[marking[-1]] = marking
         return replaced
+
+    def drop_above(self, marking):
+        """Drop those of the basis that cover the marking; return the list of them."""
+        dropped = _all_above(self.tree, marking, 0)
+        for other in dropped:
+            self.drop(other)
+        return dropped
 
     def drop(self, marking):
         """Drop a marking of the basis, and the branches of the tree that are empty then."""

@@ -5,6 +5,7 @@ of firings do, and these can be found however great they are. The order of the f
 may be missed, but one that is found can be fired.
 """
 
+from covernets.reduction import possible_transitions
 from covernets.runs import need_and_effect, shifted, spread
 
 # From this number on, plans are made before limits are tried one by one.
@@ -25,7 +26,7 @@ def has_great_numbers(limit):
 
 def best_plan(net, limit, place):
     """Return the pair of a number that the place can never exceed, None if not known, and of a number it can have."""
-    possible = _possible(net, limit)
+    possible = possible_transitions(net, [most != 0 for most in limit])
     finite = [other for other, most in enumerate(limit) if most != -1]
     effects = [need_and_effect(net, (index,))[1] for index in possible]
     rows = [[-change[other] for change in effects] for other in finite]
@@ -44,7 +45,7 @@ def plan_to(net, limit, goal):
     for place in growing:
         if best_plan(net, limit, place)[0] is not None:
             return False, None
-    possible = _possible(net, limit)
+    possible = possible_transitions(net, [most != 0 for most in limit])
     effects = [need_and_effect(net, (index,))[1] for index in possible]
     # The last variable is 1 if the goal is reached, else 0.
     rows = [[-change[place] for change in effects] + [max(0, goal[place])] for place in finite]
@@ -56,22 +57,6 @@ def plan_to(net, limit, goal):
     parts, reached = _fired_by_plan(net, limit, possible, counts[:-1])
     missed = [place for place in finite if reached[place] < goal[place]]
     return True, parts if not missed and not growing else None
-
-
-def _possible(net, limit):
-    """Return the indexes of the transitions all of whose places can have a token."""
-    marked = [most != 0 for most in limit]
-    possible = []
-    grows = True
-    while grows:
-        grows = False
-        for index, (takes, gives, _) in enumerate(net.transitions):
-            lacking = [place for place, number in enumerate(takes) if number > 0 and not marked[place]]
-            if index not in possible and not lacking:
-                possible.append(index)
-                marked = [had or number > 0 for had, number in zip(marked, gives)]
-                grows = True
-    return sorted(possible)
 
 
 def _fired_by_plan(net, limit, indexes, counts):
@@ -125,6 +110,26 @@ def maximize(rows, most, aims):
     numbers, what is returned is a value that is not exceeded, and other numbers, perhaps too great ones.
     Return None if there is no greatest value. The numbers in most are not negative.
     """
+    best = _best_table(rows, most, aims)
+    if best is None:
+        return None
+    table, basis, divisor = best
+    table, basis, divisor = _with_cuts(table, basis, divisor)
+    return [number // divisor for number in _solution(table, basis, len(aims))], table[-1][-1] // divisor
+
+
+def best_fractions(rows, most, aims):
+    """Return numbers x, prices and a divisor: x / divisor is best for what maximize looks for among fractions.
+
+    The prices, none negative, prove it: with prices / divisor, the sum of the multiples of the rows is at
+    least aims, and that of the numbers in most is what x / divisor is worth. There has to be a greatest value.
+    """
+    table, basis, divisor = _best_table(rows, most, aims)
+    return _solution(table, basis, len(aims)), table[-1][len(aims):-1], divisor
+
+
+def _best_table(rows, most, aims):
+    """Return the table of best fractions, its basis and its divisor, or None if there is no greatest value."""
     table = []
     for at, row in enumerate(rows):
         table.append(list(row) + [1 if other == at else 0 for other in range(len(rows))] + [most[at]])
@@ -139,12 +144,16 @@ def maximize(rows, most, aims):
         table, divisor = _pivoted(table, at, column, divisor)
         basis[at] = column
         column = _entering(table)
-    table, basis, divisor = _with_cuts(table, basis, divisor)
-    numbers = [0] * len(aims)
+    return table, basis, divisor
+
+
+def _solution(table, basis, many):
+    """Return the numbers of so many first columns, not divided by the divisor."""
+    numbers = [0] * many
     for at, column in enumerate(basis):
-        if column < len(aims):
-            numbers[column] = table[at][-1] // divisor
-    return numbers, table[-1][-1] // divisor
+        if column < many:
+            numbers[column] = table[at][-1]
+    return numbers
 
 
 def _entering(table):

@@ -41,6 +41,12 @@ def effect(net, run):
     return change
 
 
+def effects(net):
+    """Return the list of the effects of all transitions; raise NotPlain if the net is not plain."""
+    check_plain(net)
+    return [need_and_effect(net, (index,))[1] for index in range(len(net.transitions))]
+
+
 def fire_parts(net, marking, parts):
     """Return the marking after a list of parts; raise NotEnabled with the index of the part."""
     check_plain(net)

@@ -6,7 +6,7 @@ import os
 import unittest
 
 PACKAGE = os.path.join(os.path.dirname(os.path.dirname(os.path.abspath(__file__))), "covernets")
-LIBRARY = {"heapq": {"heappush", "heappop"}, "math": {"comb", "gcd"}, "itertools": {"product"}}
+LIBRARY = {"heapq": {"heappush", "heappop"}, "math": {"comb", "gcd", "lcm"}, "itertools": {"product"}}
 BUILTINS = set(
     "len range enumerate zip min max sum abs sorted reversed int str bool list tuple dict set isinstance "
     "any all divmod ValueError".split()
@@ -105,6 +105,12 @@ class LanguageTest(unittest.TestCase):
             "decisions.py": "Decision decide judge_barrier judge_run",
             "forward.py": "fire_limit limit_set judge_limits bounds",
             "growth.py": "growth longest_reach",
+            "invariants.py": "invariant_basis minimal_semiflows",
+            "balance.py": "balance judge_balance",
+            "siphons.py": "is_siphon is_trap largest_siphon largest_trap minimal_siphons",
+            "graphs.py": "Graph explore stuck live homes repeatable route",
+            "reduction.py": "Reduced reduce_net original_run",
+            "configs.py": "is_within config_covers config_basis in_config_set",
         }
         found = dict(modules())
         for name, words in expected.items():

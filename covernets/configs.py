@@ -1,0 +1,84 @@
+"""Words, and configurations, which are markings with a word for each channel, and their closed sets (point 31)."""
+
+from covernets.closed import Basis, covers
+
+
+class ConfigBasis:
+    """The least ones of the configurations that were included.
+
+    The markings that come with the same words stand together in a basis of markings.
+    """
+
+    def __init__(self, members):
+        self.members = {}
+        self.shelves = {}
+        self.smaller = {}
+        for member in sorted(members):
+            self.include(member)
+
+    def contains(self, config):
+        """Return True if the configuration covers one of the basis, otherwise False."""
+        marking, words = config
+        for shelf in self.shelves_within(words):
+            if shelf.contains(marking):
+                return True
+        return False
+
+    def shelves_within(self, words):
+        """Return the list of the bases of the markings whose words are within these."""
+        if words not in self.smaller:
+            self.smaller[words] = [shelf for other, shelf in self.shelves.items() if words_cover(words, other)]
+        return self.smaller[words]
+
+    def include(self, config):
+        """Include the configuration, unless it covers one of the basis; return the list of those that it replaces."""
+        if self.contains(config):
+            return []
+        marking, words = config
+        replaced = []
+        for other, shelf in self.shelves.items():
+            if words_cover(other, words):
+                replaced.extend([(member, other) for member in shelf.drop_above(marking)])
+        for other in replaced:
+            del self.members[other]
+        if words not in self.shelves:
+            self.shelves[words] = Basis([])
+            self.smaller = {}
+        self.shelves[words].include(marking)
+        self.members[config] = True
+        return replaced
+
+
+def is_within(first, second):
+    """Return True if the first word is within the second one, otherwise False."""
+    at = 0
+    for letter in second:
+        if at < len(first) and first[at] == letter:
+            at += 1
+    return at == len(first)
+
+
+def words_cover(first, second):
+    """Return True if each word of the second tuple is within that of the first one, otherwise False."""
+    for word, other in zip(first, second):
+        if not is_within(other, word):
+            return False
+    return True
+
+
+def config_covers(first, second):
+    """Return True if the first configuration covers the second one, otherwise False."""
+    return covers(first[0], second[0]) and words_cover(first[1], second[1])
+
+
+def config_basis(members):
+    """Return the basis of a closed set of configurations, a list in ascending order."""
+    return sorted(ConfigBasis(members).members)
+
+
+def in_config_set(members, config):
+    """Return True if the configuration is in the closed set of the members, otherwise False."""
+    for member in members:
+        if config_covers(config, member):
+            return True
+    return False
