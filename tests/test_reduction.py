@@ -80,6 +80,19 @@ class StepsTest(unittest.TestCase):
         reduced = reduce_net(net, ((2, 0), 1), [(3, 0)])
         self.assertEqual((reduced.places, reduced.transitions, reduced.start), ((0,), (), ((2,), -1)))
 
+    def test_circles_beside_the_relevant_places(self):
+        # The first two transitions give each other what they take, but nothing to place 2.
+        for first, second in (((0, 1, 2), (0, 1, 2)), ((-1, 1, 2), (0, -1, 2)), ((1, 1, 2), (0, 0, 2)), ((0, 0, -1), (1, 1, 2))):
+            net = Net(3, [
+                ((1, 0, 0), (0, 1, 0), first), ((0, 1, 0), (1, 0, 0), second), ((0, 0, 1), (0, 0, 2), (0, 1, 2)),
+            ])
+            reduced = reduce_net(net, ((1, 0, 1), -1), [(0, 0, 3)])
+            self.assertEqual((reduced.places, reduced.transitions), ((2,), (2,)))
+
+    def test_lost_tokens_mark_no_place(self):
+        net = Net(2, [((0, 0), (0, 0), (-1, 1)), ((0, 1), (3, 0), (0, 1))])
+        self.assertEqual(reduce_net(net, ((2, 0), -1), [(3, 0)]).transitions, ())
+
     def test_place_free_is_numbered_anew(self):
         net = plain_net(3, [((0, 0, 1), (0, 1, 0))])
         reduced = reduce_net(net, ((7, 0, 1), 2), [(0, 2, 0)])
