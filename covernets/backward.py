@@ -1,10 +1,17 @@
-"""Covering goals: the step back, the cover basis, and ways to the goals (point 15)."""
+"""Covering goals: the step back, the cover basis, and ways to the goals (point 15).
+
+The same is done here for configurations of mail nets (point 33): their words are given with the markings, and
+the actions of the transitions with the net. A net alone is one without channels, where nothing is heard or sent.
+Runs are fired with losses then: what stands before a letter that is to be heard is lost.
+"""
 
 from heapq import heappop, heappush
-from math import comb
 
-from covernets.closed import Basis, basis_of, covers, in_closed
-from covernets.nets import enabled, fire, is_plain, runs_plainly
+from covernets.closed import covers
+from covernets.configs import (
+    Beside, ConfigBasis, config_basis, config_covers, in_config_set, words_after, words_before, words_cover,
+)
+from covernets.nets import count_predecessors, enabled, fire, is_plain, predecessors, runs_plainly
 from covernets.plans import has_great_numbers, plan_to
 from covernets.runs import need_and_effect, run_from, shifted, spread
 
@@ -21,58 +28,63 @@ LONGEST = 400
 
 
 class Node:
-    """A marking from which the goals can be covered.
+    """A marking with words from which the goals can be covered.
 
-    From it the run leads into the closed set of the marking of the node after. It is fired once, or, where
-    gains are given, until this is so; each time adds the gains at least. A goal has no node after.
+    From it the run leads into the closed set of the node after. It is fired once, or, where gains are given,
+    until this is so; each time adds the gains to the marking at least, and leads to words that cover those of
+    the node, which are those of the node after. A goal has no node after.
     """
 
-    def __init__(self, marking, run, gains, after):
-        self.marking = marking
+    def __init__(self, config, run, gains, after):
+        self.config = config
+        self.marking, self.words = config
         self.run = run
         self.gains = gains
         self.after = after
 
 
 class Search:
-    """The nodes found backward from the goals, until nothing is new or the marking, if given, covers one.
+    """The nodes found backward from the goals, until nothing is new or the configuration, if given, covers one.
 
     Runs are pumped: one that makes places grow is repeated as often as needed at once, so that it does not
     matter how great the numbers are.
     """
 
-    def __init__(self, net, goals, marking):
+    def __init__(self, net, actions, goals, config):
         self.net = net
-        self.marking = marking
+        self.actions = actions
+        self.config = config
         self.found = None
         self.nodes = []
         self.ranks = {}
-        self.basis = Basis([])
+        self.basis = ConfigBasis([])
         self.queue = []
-        for goal in basis_of(goals):
+        for goal in config_basis(goals):
             self.keep(Node(goal, (), None, None))
         while self.queue and self.found is None:
             _, at, index, whole = heappop(self.queue)
-            if self.nodes[at].marking in self.basis.members:
+            if self.nodes[at].config in self.basis.members:
                 self.expand(self.nodes[at], index, whole)
 
     def expand(self, node, index, whole):
         """Add the nodes from which firing the transition leads to the node."""
-        for marking in predecessors(self.net.transitions[index], node.marking, self.basis, whole):
-            before = Node(marking, (index,), None, node)
-            for pump in _pumps(self.net, before):
+        words = words_before(self.actions[index], node.words)
+        known = Beside(self.basis, words)
+        for marking in predecessors(self.net.transitions[index], node.marking, known, whole):
+            before = Node((marking, words), (index,), None, node)
+            for pump in _pumps(self.net, self.actions, before):
                 self.keep(pump)
             self.keep(before)
 
     def keep(self, node):
-        """Add the node, if its marking does not cover that of another one."""
-        if self.basis.contains(node.marking):
+        """Add the node, if it does not cover another one."""
+        if self.basis.contains(node.config):
             return
         # A node takes the turn of those that it replaces: else one that shrinks again and again would
         # never have its turn.
-        replaced = self.basis.include(node.marking)
-        rank = min([self.ranks[marking] for marking in replaced], default=len(self.nodes))
-        self.ranks[node.marking] = rank
+        replaced = self.basis.include(node.config)
+        rank = min([self.ranks[config] for config in replaced], default=len(self.nodes))
+        self.ranks[node.config] = rank
         for index, transition in enumerate(self.net.transitions):
             ends = count_predecessors(transition, node.marking, False)
             count = count_predecessors(transition, node.marking, True)
@@ -82,20 +94,21 @@ class Search:
             if count > ends:
                 heappush(self.queue, (rank + count, len(self.nodes), index, True))
         self.nodes.append(node)
-        if self.marking is not None and covers(self.marking, node.marking):
+        if self.config is not None and config_covers(self.config, node.config):
             self.found = node
 
 
 class Loop:
-    """A run from a marking along the nodes after it, in which pumped runs are fired as often as needed.
+    """A run from a node along the nodes after it, in which pumped runs are fired as often as needed.
 
     A part is a list [run, times, gains]. Where gains are given, firing the run once more just adds them to
     the marking that is reached in the end.
     """
 
-    def __init__(self, net, marking):
+    def __init__(self, net, actions, node):
         self.net = net
-        self.current = marking
+        self.actions = actions
+        self.current, self.words = node.config
         self.parts = []
 
     def follow(self, node):
@@ -109,6 +122,7 @@ class Loop:
         if times * len(node.run) > LONGEST or not self.grow_to(wanted):
             return False
         self.current = run_from(self.net, self.current, list(node.run) * times)
+        self.words = _words_after_run(self.actions, self.words, list(node.run) * times)
         if not plain:
             self.parts = [[run, number, None] for run, number, _ in self.parts]
         self.parts.append([node.run, times, node.gains if plain else None])
@@ -134,28 +148,28 @@ class Loop:
         return True
 
 
-def _pumps(net, node):
+def _pumps(net, actions, node):
     """Return nodes with less tokens than the node, from which repeating a run leads to the node."""
     pumps = []
-    loop = Loop(net, node.marking)
+    loop = Loop(net, actions, node)
     other = node
     while other.after is not None and len(loop.parts) < MOST_NODES and loop.follow(other):
         other = other.after
-        if loop.grow_to(node.marking):
+        if words_cover(loop.words, node.words) and loop.grow_to(node.marking):
             run = spread([(part[0], part[1]) for part in loop.parts])
             # Tokens that move may be back in their place only when the run has been fired several times.
             rounds = 1 if runs_plainly(net, run) else net.places
-            found = [_pump(net, node, run * times) for times in range(1, rounds + 1)]
+            found = [_pump(net, actions, node, run * times) for times in range(1, rounds + 1)]
             pumps.extend([pump for pump in found if pump is not None])
     return pumps
 
 
-def _pump(net, node, run):
+def _pump(net, actions, node, run):
     """Return the node from which repeating the run leads to the node, or None if it has no less tokens.
 
     The run leads from the marking of the node to one that covers it.
     """
-    if len(run) > LONGEST:
+    if len(run) > LONGEST or not words_cover(_words_after_run(actions, node.words, run), node.words):
         return None
     last = run_from(net, node.marking, run)
     growing = []
@@ -166,7 +180,16 @@ def _pump(net, node, run):
     if lowered == node.marking:
         return None
     last = run_from(net, lowered, run)
-    return Node(lowered, tuple(run), tuple([number - low for number, low in zip(last, lowered)]), node)
+    gains = tuple([number - low for number, low in zip(last, lowered)])
+    return Node((lowered, node.words), tuple(run), gains, node)
+
+
+def _words_after_run(actions, words, run):
+    """Return the greatest words to which the run leads from these, from which it can be fired."""
+    if words:
+        for index in run:
+            words = words_after(actions[index], words)
+    return words
 
 
 def _seats(net, run, place):
@@ -195,144 +218,119 @@ def _lowered(net, marking, run, growing):
 
 def step_back(net, members):
     """Return the step back of a closed set: the basis of the markings one firing before it."""
+    return [marking for marking, _ in configs_before(net, silent(net), alone(members))]
+
+
+def silent(net):
+    """Return actions for the net in which nothing is heard or sent."""
+    return [((), ()) for _ in net.transitions]
+
+
+def alone(markings):
+    """Return the list of the configurations of the markings without channels."""
+    return [(marking, ()) for marking in markings]
+
+
+def configs_before(net, actions, members):
+    """Return the basis of the configurations one firing before a closed set of configurations."""
     tasks = []
-    for member in basis_of(members):
+    for marking, words in config_basis(members):
         for index, transition in enumerate(net.transitions):
-            tasks.append((count_predecessors(transition, member, True), index, member))
-    before = Basis([])
+            tasks.append((count_predecessors(transition, marking, True), index, marking, words))
+    before = ConfigBasis([])
     # The transitions with many least markings come last, when most of these are known.
-    for _, index, member in sorted(tasks):
-        for marking in predecessors(net.transitions[index], member, before, True):
-            before.include(marking)
+    for _, index, marking, words in sorted(tasks):
+        earlier = words_before(actions[index], words)
+        for row in predecessors(net.transitions[index], marking, Beside(before, earlier), True):
+            before.include((row, earlier))
     return sorted(before.members)
-
-
-def predecessors(transition, member, known, whole):
-    """Return the least markings from which firing leads to a marking that covers the member.
-
-    Those that cover a marking of the basis that is known are left out; and if the whole list is not wanted,
-    those that need tokens of several places where one place is enough.
-    """
-    takes, gives, moves = transition
-    rows = [takes]
-    for place, number in enumerate(member):
-        if number > gives[place]:
-            sources = [source for source, target in enumerate(moves) if target == place]
-            if whole:
-                rows = _with_tokens(rows, sources, number - gives[place], known)
-            else:
-                rows = [_raised(row, source, number - gives[place]) for row in rows for source in sources]
-    return [row for row in rows if not known.contains(row)]
-
-
-def _with_tokens(rows, sources, number, known):
-    """Return the rows with so many tokens more, spread over the sources in each way."""
-    if not sources:
-        return []
-    pairs = [(row, number) for row in rows]
-    for source in sources[:-1]:
-        pairs = [pair for row, left in pairs for pair in _with_some(row, source, left, known)]
-    return [_raised(row, sources[-1], left) for row, left in pairs]
-
-
-def _with_some(row, source, left, known):
-    """Return pairs: the row with some of the tokens that are left at the source, and what is left then."""
-    pairs = []
-    for number in range(left + 1):
-        raised = _raised(row, source, number)
-        # What has more tokens is known, too.
-        if known.contains(raised):
-            break
-        pairs.append((raised, left - number))
-    return pairs
-
-
-def _raised(row, place, number):
-    """Return the row with so many tokens more at the place."""
-    return row[:place] + (row[place] + number,) + row[place + 1:]
-
-
-def count_predecessors(transition, member, whole):
-    """Return the number of the least markings from which firing leads to the member."""
-    _, gives, moves = transition
-    count = 1
-    for place, number in enumerate(member):
-        if number > gives[place]:
-            sources = moves.count(place)
-            if sources == 0:
-                return 0
-            count = count * (comb(number - gives[place] + sources - 1, sources - 1) if whole else sources)
-    return count
 
 
 def cover_basis(net, goals):
     """Return the cover basis of the goals: the least markings from which they can be covered."""
-    return sorted(Search(net, goals, None).basis.members)
+    return [marking for marking, _ in sorted(Search(net, silent(net), alone(goals), None).basis.members)]
 
 
 def way(net, goals, marking):
     """Return a run, a list, that leads from the marking into the closed set of the goals, or None."""
-    markings, runs = _try_forward(net, goals, tuple(marking))
-    if in_closed(goals, markings[-1]):
+    return config_way(net, silent(net), alone(goals), (tuple(marking), ()))
+
+
+def config_way(net, actions, goals, config):
+    """Return a run, a list, that leads with losses from the configuration into the goals, or None."""
+    configs, runs = _try_forward(net, actions, goals, config)
+    if in_config_set(goals, configs[-1]):
         return runs[-1]
-    if len(markings) < TRIED:
+    if len(configs) < TRIED:
         return None
-    if is_plain(net) and has_great_numbers(marking):
-        plans = [plan_to(net, marking, goal) for goal in goals]
+    marking, words = config
+    if not words and is_plain(net) and has_great_numbers(marking):
+        plans = [plan_to(net, marking, goal) for goal, _ in goals]
         if True not in [possible for possible, _ in plans]:
             return None
         for _, parts in plans:
             if parts is not None and sum([len(run) * times for run, times in parts]) <= LONGEST_PLAN:
                 return spread(parts)
-    node = Search(net, goals, marking).found
-    return None if node is None else _run_along(net, node, marking)
+    node = Search(net, actions, goals, config).found
+    return None if node is None else _run_along(net, actions, node, config)
 
 
-def _try_forward(net, goals, marking):
-    """Return markings that are reachable, up to the first one that covers a goal, and the runs to them.
+def _try_forward(net, actions, goals, config):
+    """Return configurations that are reachable, up to the first one that covers a goal, and the runs to them.
 
-    If they are less than those to be tried, each marking that is reachable is covered by one of them.
+    If they are less than those to be tried, each one that is reachable is covered by one of them.
     """
-    markings = [marking]
+    configs = [config]
     runs = [[]]
     at = 0
-    while at < len(markings) < TRIED and not in_closed(goals, markings[-1]):
-        for index in range(len(net.transitions)):
-            if enabled(net, index, markings[at]) and not in_closed(goals, markings[-1]):
-                result = fire(net, index, markings[at])
-                # What another marking covers leads to nothing more than that one.
-                if not _is_covered(result, markings):
-                    markings.append(result)
+    while at < len(configs) < TRIED and not in_config_set(goals, configs[-1]):
+        for index, action in enumerate(actions):
+            result = _config_after(net, action, index, configs[at])
+            if result is not None and not in_config_set(goals, configs[-1]):
+                # What another one covers leads to nothing more than that one.
+                if not _is_covered(result, configs):
+                    configs.append(result)
                     runs.append(runs[at] + [index])
         at += 1
-    return markings, runs
+    return configs, runs
 
 
-def _is_covered(marking, others):
-    """Return True if one of the others covers the marking, otherwise False."""
+def _config_after(net, action, index, config):
+    """Return the greatest configuration after firing the transition, perhaps after some losses, or None."""
+    marking, words = config
+    if not enabled(net, index, marking):
+        return None
+    after = words_after(action, words)
+    return None if after is None else (fire(net, index, marking), after)
+
+
+def _is_covered(config, others):
+    """Return True if one of the others covers the configuration, otherwise False."""
     for other in others:
-        if covers(other, marking):
+        if config_covers(other, config):
             return True
     return False
 
 
-def _run_along(net, node, marking):
-    """Return the run that leads from the marking along the nodes to a goal."""
+def _run_along(net, actions, node, config):
+    """Return the run that leads from the configuration along the nodes to a goal."""
     run = []
+    marking, words = config
     while node.after is not None:
-        part = list(node.run) * _times(node, marking)
+        part = []
+        if not config_covers((marking, words), node.after.config):
+            part = list(node.run) * _times(node, marking)
         marking = run_from(net, marking, part)
+        words = _words_after_run(actions, words, part)
         run.extend(part)
         node = node.after
     return run
 
 
 def _times(node, marking):
-    """Return how often the run of the node is to be fired from the marking."""
-    wanted = node.after.marking
-    if covers(marking, wanted):
-        return 0
+    """Return how often the run of the node is to be fired from the marking, if the words do not matter."""
     if node.gains is None:
         return 1
+    wanted = node.after.marking
     lacks = [(goal - number, gain) for goal, number, gain in zip(wanted, marking, node.gains) if goal > number]
-    return max([-(-lack // gain) for lack, gain in lacks])
+    return max([-(-lack // gain) for lack, gain in lacks], default=0)

@@ -49,6 +49,18 @@ class ConfigBasis:
         return replaced
 
 
+class Beside:
+    """A basis of configurations, seen from the markings that come with certain words."""
+
+    def __init__(self, basis, words):
+        self.basis = basis
+        self.words = words
+
+    def contains(self, marking):
+        """Return True if the marking with the words covers one of the basis, otherwise False."""
+        return self.basis.contains((marking, self.words))
+
+
 def is_within(first, second):
     """Return True if the first word is within the second one, otherwise False."""
     at = 0
@@ -64,6 +76,33 @@ def words_cover(first, second):
         if not is_within(other, word):
             return False
     return True
+
+
+def words_before(action, words):
+    """Return the least words from which the action leads to words that cover these."""
+    if not words:
+        return words
+    hears, sends = action
+    before = list(words)
+    for channel, letter in sends:
+        if before[channel][-1:] == (letter,):
+            before[channel] = before[channel][:-1]
+    for channel, letter in hears:
+        before[channel] = (letter,) + before[channel]
+    return tuple(before)
+
+
+def words_after(action, words):
+    """Return the greatest words to which the action leads, perhaps after some losses, or None if it cannot be taken."""
+    after = list(words)
+    hears, sends = action
+    for channel, letter in hears:
+        if letter not in after[channel]:
+            return None
+        after[channel] = after[channel][after[channel].index(letter) + 1:]
+    for channel, letter in sends:
+        after[channel] = after[channel] + (letter,)
+    return tuple(after)
 
 
 def config_covers(first, second):

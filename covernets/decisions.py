@@ -1,10 +1,11 @@
 """Decisions whether goals can be covered from some start marking, and their judges (points 16 to 18)."""
 
-from covernets.backward import count_predecessors, cover_basis, predecessors, way
+from covernets.backward import cover_basis, way
 from covernets.closed import Basis, closed_within, in_closed
 from covernets.complements import complement_closed
 from covernets.errors import NotEnabled
 from covernets.limits import admits
+from covernets.nets import count_predecessors, predecessors
 from covernets.runs import run_from
 
 # The markings one firing before a barrier are listed if they are not more than this.
@@ -52,32 +53,31 @@ def judge_barrier(net, start, goals, barrier):
     """Return True if a judge takes the list of markings as a barrier, otherwise False."""
     if not closed_within(goals, barrier) or least_count(start, barrier) is not None:
         return False
-    if _count_before(net, barrier) > MANY:
-        return outside_stays_outside(net, barrier)
-    return step_back_within(net, barrier)
+    if are_many_before(net.transitions, barrier):
+        return outside_leads_outside(net.transitions, barrier, barrier)
+    return step_back_within(net.transitions, Basis(barrier), barrier)
 
 
-def _count_before(net, members):
-    """Return the number of the least markings one firing before the members, taken one by one."""
-    return sum([count_predecessors(step, member, True) for member in members for step in net.transitions])
+def are_many_before(transitions, members):
+    """Return True if the least markings one firing before the members are too many to be listed, otherwise False."""
+    return sum([count_predecessors(step, member, True) for member in members for step in transitions]) > MANY
 
 
-def step_back_within(net, members):
-    """Return True if each marking of the step back is in the closed set of the members, otherwise False."""
-    known = Basis(members)
+def step_back_within(transitions, known, members):
+    """Return True if all markings one firing before the members cover one of the known basis, otherwise False."""
     for member in members:
-        for transition in net.transitions:
+        for transition in transitions:
             if predecessors(transition, member, known, True):
                 return False
     return True
 
 
-def outside_stays_outside(net, members):
-    """Return True if no firing leads from outside into the closed set of the members, otherwise False."""
-    for limit in complement_closed(members, net.places):
-        for transition in net.transitions:
-            after = _most_after(transition, limit)
-            if after is not None and _admits_some(after, members):
+def outside_leads_outside(transitions, before, after):
+    """Return True if no firing leads from outside the closed set before into that after, which has a member."""
+    for limit in complement_closed(before, len(after[0])):
+        for transition in transitions:
+            result = _most_after(transition, limit)
+            if result is not None and _admits_some(result, after):
                 return False
     return True
 

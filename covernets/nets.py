@@ -1,5 +1,7 @@
 """Nets: places with tokens, and transitions that take, move and give them (points 11 and 12)."""
 
+from math import comb
+
 from covernets.closed import covers
 from covernets.errors import InvalidNet, NotEnabled, NotPlain
 
@@ -78,3 +80,61 @@ def fire(net, index, marking):
         if target != -1:
             result[target] += marking[place] - takes[place]
     return tuple(result)
+
+
+def predecessors(transition, member, known, whole):
+    """Return the least markings from which firing leads to a marking that covers the member.
+
+    Those that cover a marking of the basis that is known are left out; and if the whole list is not wanted,
+    those that need tokens of several places where one place is enough.
+    """
+    takes, gives, moves = transition
+    rows = [takes]
+    for place, number in enumerate(member):
+        if number > gives[place]:
+            sources = [source for source, target in enumerate(moves) if target == place]
+            if whole:
+                rows = _with_tokens(rows, sources, number - gives[place], known)
+            else:
+                rows = [_raised(row, source, number - gives[place]) for row in rows for source in sources]
+    return [row for row in rows if not known.contains(row)]
+
+
+def _with_tokens(rows, sources, number, known):
+    """Return the rows with so many tokens more, spread over the sources in each way."""
+    if not sources:
+        return []
+    pairs = [(row, number) for row in rows]
+    for source in sources[:-1]:
+        pairs = [pair for row, left in pairs for pair in _with_some(row, source, left, known)]
+    return [_raised(row, sources[-1], left) for row, left in pairs]
+
+
+def _with_some(row, source, left, known):
+    """Return pairs: the row with some of the tokens that are left at the source, and what is left then."""
+    pairs = []
+    for number in range(left + 1):
+        raised = _raised(row, source, number)
+        # What has more tokens is known, too.
+        if known.contains(raised):
+            break
+        pairs.append((raised, left - number))
+    return pairs
+
+
+def _raised(row, place, number):
+    """Return the row with so many tokens more at the place."""
+    return row[:place] + (row[place] + number,) + row[place + 1:]
+
+
+def count_predecessors(transition, member, whole):
+    """Return the number of the least markings from which firing leads to the member."""
+    _, gives, moves = transition
+    count = 1
+    for place, number in enumerate(member):
+        if number > gives[place]:
+            sources = moves.count(place)
+            if sources == 0:
+                return 0
+            count = count * (comb(number - gives[place] + sources - 1, sources - 1) if whole else sources)
+    return count

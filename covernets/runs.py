@@ -2,16 +2,17 @@
 
 from covernets.closed import covers
 from covernets.errors import NotEnabled
-from covernets.nets import check_plain, enabled, fire
+from covernets.nets import check_plain, fire
 
 
 def run_from(net, marking, run):
     """Return the marking after the run; raise NotEnabled with the index in the run."""
     current = tuple(marking)
     for position, index in enumerate(run):
-        if not enabled(net, index, current):
-            raise NotEnabled(position)
-        current = fire(net, index, current)
+        try:
+            current = fire(net, index, current)
+        except NotEnabled:
+            raise NotEnabled(position) from None
     return current
 
 

@@ -3,6 +3,7 @@
 import random
 from itertools import product
 
+from covernets.mail import MailNet
 from covernets.nets import Net, enabled, fire
 
 HUGE = 10 ** 30
@@ -53,3 +54,16 @@ def reachable(net, marking, limit):
                 if len(seen) > limit:
                     return None
     return seen
+
+
+def small_mail(seed, places, transitions, channels, moving):
+    """A mail net that is made from a seed: channels is the list of the numbers of letters."""
+    chooser = random.Random(seed + 1000)
+
+    def pairs(chance):
+        return [
+            (channel, chooser.randrange(letters)) for channel, letters in enumerate(channels) if chooser.random() < chance
+        ]
+
+    net = small_net(seed, places, transitions, 2, moving)
+    return MailNet(net, channels, [(pairs(0.5), pairs(0.5)) for _ in range(transitions)])

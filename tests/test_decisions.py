@@ -1,9 +1,9 @@
 import unittest
 
 from covernets.backward import cover_basis, step_back
-from covernets.closed import closed_within, in_closed
+from covernets.closed import Basis, closed_within, in_closed
 from covernets.decisions import (
-    Decision, decide, judge_barrier, judge_run, outside_stays_outside, step_back_within,
+    Decision, are_many_before, decide, judge_barrier, judge_run, outside_leads_outside, step_back_within,
 )
 from covernets.forward import limit_set
 from covernets.limits import within
@@ -134,12 +134,26 @@ class JudgeBarrierTest(unittest.TestCase):
         self.assertIs(judge_barrier(losing, ((0, 0, 5), -1), [(0, 0, HUGE)], [(0, 0, HUGE), (0, 2, 0)]), True)
 
     def test_both_ways_to_judge_agree(self):
+        judged = []
         for seed in range(150):
             net = small_net(seed, 3, 2, 2, 4)
-            for barrier in ([(1, 0, 2), (0, 2, 0)], cover_basis(net, [(1, 1, 1)]), [(3, 0, 0), (0, 0, 1), (0, 4, 0)]):
+            after = [(1, 0, 2), (0, 2, 0)]
+            before = [(2, 0, 0), (0, 1, 0), (0, 0, 3), (1, 0, 1)]
+            for barrier in (after, cover_basis(net, [(1, 1, 1)]), [(3, 0, 0), (0, 0, 1), (0, 4, 0)], before):
                 expected = closed_within(step_back(net, barrier), barrier)
-                self.assertIs(step_back_within(net, barrier), expected)
-                self.assertIs(outside_stays_outside(net, barrier), expected)
+                self.assertIs(step_back_within(net.transitions, Basis(barrier), barrier), expected)
+                self.assertIs(outside_leads_outside(net.transitions, barrier, barrier), expected)
+            expected = closed_within(step_back(net, after), before)
+            self.assertIs(step_back_within(net.transitions, Basis(before), after), expected)
+            self.assertIs(outside_leads_outside(net.transitions, before, after), expected)
+            judged.append(expected)
+        self.assertGreater(judged.count(True), 20)
+        self.assertGreater(judged.count(False), 20)
+
+    def test_many_before(self):
+        steps = [((0, 0), (0, 0), (0, 0))]
+        self.assertIs(are_many_before(steps, [(99999, 0)]), False)
+        self.assertIs(are_many_before(steps, [(100000, 0)]), True)
 
     def test_empty_lists(self):
         self.assertIs(judge_barrier(NET, ((3, 0), 0), [], []), True)
