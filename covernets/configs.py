@@ -42,11 +42,19 @@ class ConfigBasis:
         for other in replaced:
             del self.members[other]
         if words not in self.shelves:
-            self.shelves[words] = Basis([])
-            self.smaller = {}
+            self.put_up(words)
         self.shelves[words].include(marking)
         self.members[config] = True
         return replaced
+
+
+    def put_up(self, words):
+        """Put up an empty basis for the markings that come with these words."""
+        shelf = Basis([])
+        self.shelves[words] = shelf
+        for other in list(self.smaller):
+            if words_cover(other, words):
+                self.smaller[other].append(shelf)
 
 
 class Beside:
@@ -63,6 +71,8 @@ class Beside:
 
 def is_within(first, second):
     """Return True if the first word is within the second one, otherwise False."""
+    if len(first) > len(second):
+        return False
     at = 0
     for letter in second:
         if at < len(first) and first[at] == letter:

@@ -111,6 +111,11 @@ class LanguageTest(unittest.TestCase):
             "graphs.py": "Graph explore stuck live homes repeatable route",
             "reduction.py": "Reduced reduce_net original_run",
             "configs.py": "is_within config_covers config_basis in_config_set",
+            "mail.py": "MailNet can_take take_mail",
+            "mailcover.py": "mail_step_back mail_basis mail_way MailDecision decide_mail judge_mail",
+            "protocols.py": "Rule System is_name",
+            "parties.py": "start_state is_legal take_step play is_bad",
+            "language.py": "format_protocol parse_protocol",
         }
         found = dict(modules())
         for name, words in expected.items():
