@@ -5,6 +5,7 @@ from itertools import product
 
 from covernets.mail import MailNet
 from covernets.nets import Net, enabled, fire
+from covernets.protocols import Rule, System
 
 HUGE = 10 ** 30
 
@@ -67,3 +68,35 @@ def small_mail(seed, places, transitions, channels, moving):
 
     net = small_net(seed, places, transitions, 2, moving)
     return MailNet(net, channels, [(pairs(0.5), pairs(0.5)) for _ in range(transitions)])
+
+
+def some_protocol(seed):
+    """A protocol that is made from a seed, with any parts from none to the most that are allowed."""
+    chooser = random.Random(seed)
+    states = ["a", "b2", "c", "dd", "e", "f9"][:chooser.randint(1, 6)]
+    variables = [("v", ["x", "y"]), ("lock", ["free", "held", "a"])][:chooser.randint(0, 2)]
+    channels = [("box", ["ping", "pong", "x"]), ("q", ["x"])][:chooser.randint(0, 2)]
+
+    def arrows(froms):
+        return [(state, chooser.choice(states + ["gone"])) for state in froms]
+
+    def some(owners):
+        return [(name, chooser.choice(values)) for name, values in owners if chooser.random() < 0.4]
+
+    def rule(name):
+        return Rule(
+            name,
+            arrows(chooser.choices(states, k=chooser.randint(1, 3))),
+            everyone=arrows(chooser.sample(states, chooser.randint(0, min(2, len(states))))),
+            born=chooser.choices(states, k=chooser.choice([0, 0, 1, 3])),
+            conditions=some(variables), effects=some(variables), hears=some(channels), sends=some(channels),
+        )
+
+    def pattern():
+        counts = [(state, chooser.randint(1, 9)) for state in chooser.sample(states, chooser.randint(0, len(states)))]
+        values = some(variables)
+        return (counts, values) if counts or values else ([(states[0], 1)], [])
+
+    rules = [rule(name) for name in ["go", "r1", "r2", "all2", "rule", "bad", "z", "states"][:chooser.randint(0, 8)]]
+    bad = [pattern() for _ in range(chooser.randint(0, 4))]
+    return System(states, chooser.choice(states), variables, rules, bad, channels=channels)
