@@ -4,8 +4,10 @@ from covernets.errors import InvalidProtocol
 
 LETTERS = "abcdefghijklmnopqrstuvwxyz"
 DIGITS = "0123456789"
+WORDS_THAT_ARE_NO_NAMES = ("all", "new", "if", "set", "hear", "send", "lose", "gone")
+
+# What a party that leaves goes to, instead of a state.
 GONE = "gone"
-WORDS_THAT_ARE_NO_NAMES = ("all", "new", "if", "set", "hear", "send", "lose", GONE)
 
 MOST_STATES = 6
 MOST_VARIABLES = 2
