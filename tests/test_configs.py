@@ -3,7 +3,7 @@ import unittest
 from itertools import combinations
 
 from covernets.configs import (
-    ConfigBasis, config_basis, config_covers, in_config_set, is_within, words_cover,
+    ConfigBasis, config_basis, config_covers, in_config_set, is_within, words_after, words_before, words_cover,
 )
 from helpers import HUGE
 
@@ -39,6 +39,21 @@ class WordsTest(unittest.TestCase):
             second = tuple(chooser.randrange(3) for _ in range(chooser.randint(0, 6)))
             first = tuple(chooser.randrange(3) for _ in range(chooser.randint(0, 4)))
             self.assertIs(is_within(first, second), first in part_words(second))
+
+
+class ActionsTest(unittest.TestCase):
+    def test_words_before(self):
+        self.assertEqual(words_before(((), ((0, 1),)), ((0, 1),)), ((0,),))
+        self.assertEqual(words_before(((), ((0, 1),)), ((1, 0),)), ((1, 0),))
+        self.assertEqual(words_before((((0, 1),), ((0, 0),)), ((0,),)), ((1,),))
+        self.assertEqual(words_before((((1, 2),), ((0, 0),)), ((), (0,))), ((), (2, 0)))
+        self.assertEqual(words_before(((), ()), ()), ())
+
+    def test_words_after(self):
+        self.assertEqual(words_after((((0, 1),), ((0, 0),)), ((0, 0, 1, 1, 0),)), ((1, 0, 0),))
+        self.assertEqual(words_after((((0, 1),), ((1, 3),)), ((1,), (2,))), ((), (2, 3)))
+        self.assertIsNone(words_after((((0, 1), (1, 0)), ()), ((1,), ())))
+        self.assertEqual(words_after(((), ()), ((1,),)), ((1,),))
 
 
 class ConfigsTest(unittest.TestCase):

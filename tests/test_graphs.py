@@ -85,6 +85,14 @@ class GraphTest(unittest.TestCase):
         self.assertEqual((homes(graph), live(graph)), ([3, 4], [0, 1]))
         self.assertEqual((stuck(graph), repeatable(graph)), ([], [0, 1]))
 
+    def test_equal_results(self):
+        marking = [2, 0]
+        first, second = explore(NET, marking, 10), explore(NET, marking, 11)
+        self.assertEqual((first.markings, first.moves), (second.markings, second.moves))
+        self.assertEqual(marking, [2, 0])
+        for row in first.markings + first.moves + (first.markings, first.moves):
+            self.assertIsInstance(row, tuple)
+
     def test_limit_that_is_just_enough(self):
         self.assertEqual(len(explore(NET, (2, 0), 5).markings), 5)
         for limit in (1, 2, 3, 4):

@@ -189,6 +189,17 @@ class MailWayTest(unittest.TestCase):
         self.assertGreater(min(none, some), 500)
 
 
+class ListsTest(unittest.TestCase):
+    def test_lists_are_new_and_equal(self):
+        goals, config = [((0, 0, 1), ((),))], ((2, 0, 0), ((),))
+        for function, arguments in ((mail_step_back, (goals,)), (mail_basis, (goals,)), (mail_way, (goals, config))):
+            first = function(POST, *arguments)
+            expected = list(first)
+            first.append("more")
+            self.assertEqual(function(POST, *arguments), expected)
+        self.assertEqual((goals, config), ([((0, 0, 1), ((),))], ((2, 0, 0), ((),))))
+
+
 class DecisionTest(unittest.TestCase):
     def test_copies(self):
         steps, barrier = [["fire", 0], ("lose", 0, 1)], [[[1, 0], [[0, 1], []]], ((0, 1), ((), (1,)))]
