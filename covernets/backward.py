@@ -11,7 +11,7 @@ from covernets.closed import covers
 from covernets.configs import (
     Beside, ConfigBasis, config_basis, config_covers, in_config_set, words_after, words_before, words_cover,
 )
-from covernets.nets import count_predecessors, enabled, fire, is_plain, predecessors, runs_plainly
+from covernets.nets import after_firing, count_predecessors, fire, is_plain, predecessors, runs_plainly
 from covernets.plans import has_great_numbers, plan_to
 from covernets.runs import need_and_effect, run_from, shifted, spread
 
@@ -298,10 +298,9 @@ def _try_forward(net, actions, goals, config):
 def _config_after(net, action, index, config):
     """Return the greatest configuration after firing the transition, perhaps after some losses, or None."""
     marking, words = config
-    if not enabled(net, index, marking):
-        return None
+    result = after_firing(net.transitions[index], marking)
     after = words_after(action, words)
-    return None if after is None else (fire(net, index, marking), after)
+    return None if result is None or after is None else (result, after)
 
 
 def _is_covered(config, others):

@@ -47,7 +47,6 @@ class ConfigBasis:
         self.members[config] = True
         return replaced
 
-
     def put_up(self, words):
         """Put up an empty basis for the markings that come with these words."""
         shelf = Basis([])

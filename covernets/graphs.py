@@ -1,7 +1,7 @@
 """Graphs of nets with finitely many reachable markings (points 28 and 29)."""
 
 from covernets.errors import TooMany
-from covernets.nets import enabled, fire
+from covernets.nets import after_firing
 
 
 class Graph:
@@ -20,11 +20,11 @@ def explore(net, marking, limit):
     while len(moves) < len(markings):
         current = markings[len(moves)]
         row = []
-        for index in range(len(net.transitions)):
-            if not enabled(net, index, current):
+        for transition in net.transitions:
+            result = after_firing(transition, current)
+            if result is None:
                 row.append(-1)
                 continue
-            result = fire(net, index, current)
             if result not in numbers:
                 if len(markings) >= limit:
                     raise TooMany("more markings than the limit are reachable")

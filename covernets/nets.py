@@ -72,9 +72,17 @@ def enabled(net, index, marking):
 
 def fire(net, index, marking):
     """Return the marking after firing the transition; raise NotEnabled with position 0."""
-    takes, gives, moves = net.transitions[index]
-    if not covers(marking, takes):
+    result = after_firing(net.transitions[index], marking)
+    if result is None:
         raise NotEnabled(0)
+    return result
+
+
+def after_firing(transition, marking):
+    """Return the marking after firing the transition, or None if the marking does not enable it."""
+    takes, gives, moves = transition
+    if not covers(marking, takes):
+        return None
     result = list(gives)
     for place, target in enumerate(moves):
         if target != -1:

@@ -77,7 +77,7 @@ def _named_lists(pairs):
 
 def is_name(word):
     """Return True if the string is a name, otherwise False."""
-    if word[:1] not in list(LETTERS) or word in WORDS_THAT_ARE_NO_NAMES:
+    if not word or word[0] not in LETTERS or word in WORDS_THAT_ARE_NO_NAMES:
         return False
     for character in word:
         if character not in LETTERS and character not in DIGITS:

@@ -2,17 +2,17 @@
 
 from covernets.closed import covers
 from covernets.errors import NotEnabled
-from covernets.nets import check_plain, fire
+from covernets.nets import after_firing, check_plain
 
 
 def run_from(net, marking, run):
     """Return the marking after the run; raise NotEnabled with the index in the run."""
     current = tuple(marking)
     for position, index in enumerate(run):
-        try:
-            current = fire(net, index, current)
-        except NotEnabled:
-            raise NotEnabled(position) from None
+        result = after_firing(net.transitions[index], current)
+        if result is None:
+            raise NotEnabled(position)
+        current = result
     return current
 
 
