@@ -11,6 +11,7 @@ from covernets.closed import covers
 from covernets.configs import (
     Beside, ConfigBasis, config_basis, config_covers, in_config_set, words_after, words_before, words_cover,
 )
+from covernets.limits import admits
 from covernets.nets import after_firing, count_predecessors, fire, is_plain, predecessors, runs_plainly
 from covernets.plans import has_great_numbers, plan_to
 from covernets.runs import need_and_effect, run_from, shifted, spread
@@ -47,13 +48,15 @@ class Search:
     """The nodes found backward from the goals, until nothing is new or the configuration, if given, covers one.
 
     Runs are pumped: one that makes places grow is repeated as often as needed at once, so that it does not
-    matter how great the numbers are.
+    matter how great the numbers are. The configuration may have a limit instead of a marking. Markings that
+    are over the caps are left out.
     """
 
-    def __init__(self, net, actions, goals, config):
+    def __init__(self, net, actions, goals, config, caps=()):
         self.net = net
         self.actions = actions
         self.config = config
+        self.caps = caps
         self.found = None
         self.nodes = []
         self.ranks = {}
@@ -71,6 +74,8 @@ class Search:
         words = words_before(self.actions[index], node.words)
         known = Beside(self.basis, words)
         for marking in predecessors(self.net.transitions[index], node.marking, known, whole):
+            if is_over(self.caps, marking):
+                continue
             before = Node((marking, words), (index,), None, node)
             for pump in _pumps(self.net, self.actions, before):
                 self.keep(pump)
@@ -78,7 +83,7 @@ class Search:
 
     def keep(self, node):
         """Add the node, if it does not cover another one."""
-        if self.basis.contains(node.config):
+        if is_over(self.caps, node.marking) or self.basis.contains(node.config):
             return
         # A node takes the turn of those that it replaces: else one that shrinks again and again would
         # never have its turn.
@@ -94,8 +99,21 @@ class Search:
             if count > ends:
                 heappush(self.queue, (rank + count, len(self.nodes), index, True))
         self.nodes.append(node)
-        if self.config is not None and config_covers(self.config, node.config):
-            self.found = node
+        if self.config is not None:
+            limit, words = self.config
+            if admits(limit, node.marking) and words_cover(words, node.words):
+                self.found = node
+
+
+def is_over(caps, marking):
+    """Return True if the marking is over one of the caps, otherwise False.
+
+    A cap is a pair of weights and of the most that the sum of the numbers, each times its weight, can be.
+    """
+    for weights, most in caps:
+        if sum([weight * number for weight, number in zip(weights, marking)]) > most:
+            return True
+    return False
 
 
 class Loop:
@@ -256,6 +274,18 @@ def way(net, goals, marking):
     return config_way(net, silent(net), alone(goals), (tuple(marking), ()))
 
 
+def has_way(net, actions, goals, config, caps):
+    """Return True if some run leads with losses from the configuration into the goals, otherwise False.
+
+    No marking that is reachable is over one of the caps.
+    """
+    marking, words = config
+    if not words and is_plain(net) and has_great_numbers(marking):
+        if True not in [plan_to(net, marking, goal)[0] for goal, _ in goals]:
+            return False
+    return Search(net, actions, goals, config, caps).found is not None
+
+
 def config_way(net, actions, goals, config):
     """Return a run, a list, that leads with losses from the configuration into the goals, or None."""
     configs, runs = _try_forward(net, actions, goals, config)
@@ -285,7 +315,7 @@ def _try_forward(net, actions, goals, config):
     at = 0
     while at < len(configs) < TRIED and not in_config_set(goals, configs[-1]):
         for index, action in enumerate(actions):
-            result = _config_after(net, action, index, configs[at])
+            result = config_after(net, action, index, configs[at])
             if result is not None and not in_config_set(goals, configs[-1]):
                 # What another one covers leads to nothing more than that one.
                 if not _is_covered(result, configs):
@@ -295,7 +325,7 @@ def _try_forward(net, actions, goals, config):
     return configs, runs
 
 
-def _config_after(net, action, index, config):
+def config_after(net, action, index, config):
     """Return the greatest configuration after firing the transition, perhaps after some losses, or None."""
     marking, words = config
     result = after_firing(net.transitions[index], marking)

@@ -16,6 +16,10 @@ class ConfigBasis:
         for member in sorted(members):
             self.include(member)
 
+    def words_go_with(self, words, other):
+        """Return True if a configuration with the words can cover one with the other words, otherwise False."""
+        return words_cover(words, other)
+
     def contains(self, config):
         """Return True if the configuration covers one of the basis, otherwise False."""
         marking, words = config
@@ -27,7 +31,7 @@ class ConfigBasis:
     def shelves_within(self, words):
         """Return the list of the bases of the markings whose words are within these."""
         if words not in self.smaller:
-            self.smaller[words] = [shelf for other, shelf in self.shelves.items() if words_cover(words, other)]
+            self.smaller[words] = [shelf for other, shelf in self.shelves.items() if self.words_go_with(words, other)]
         return self.smaller[words]
 
     def include(self, config):
@@ -37,7 +41,7 @@ class ConfigBasis:
         marking, words = config
         replaced = []
         for other, shelf in self.shelves.items():
-            if words_cover(other, words):
+            if self.words_go_with(other, words):
                 replaced.extend([(member, other) for member in shelf.drop_above(marking)])
         for other in replaced:
             del self.members[other]
@@ -52,8 +56,16 @@ class ConfigBasis:
         shelf = Basis([])
         self.shelves[words] = shelf
         for other in list(self.smaller):
-            if words_cover(other, words):
+            if self.words_go_with(other, words):
                 self.smaller[other].append(shelf)
+
+
+class ConfigTops(ConfigBasis):
+    """The greatest ones of the configurations that were included, given with the negatives of their markings."""
+
+    def words_go_with(self, words, other):
+        """Return True if a configuration with the other words can cover one with the words, otherwise False."""
+        return words_cover(other, words)
 
 
 class Beside:
@@ -112,6 +124,11 @@ def words_after(action, words):
     for channel, letter in sends:
         after[channel] = after[channel] + (letter,)
     return tuple(after)
+
+
+def markings_with_empty_words(configs):
+    """Return the markings of the configurations all of whose words are empty."""
+    return [marking for marking, words in configs if max([len(word) for word in words], default=0) == 0]
 
 
 def config_covers(first, second):

@@ -43,7 +43,7 @@ class LimitTree:
     def expand(self, node):
         """Add the nodes that one firing leads to."""
         for index, transition in enumerate(self.net.transitions):
-            limit = _fired(transition, node.limit)
+            limit = limit_after(transition, node.limit)
             if limit is not None and self.found is None:
                 self.keep(_grown(node, index, limit))
 
@@ -88,10 +88,10 @@ def _grown(before, index, limit):
 def fire_limit(net, index, limit):
     """Return the limit after firing the transition, or None if the limit does not enable it."""
     check_plain(net)
-    return _fired(net.transitions[index], limit)
+    return limit_after(net.transitions[index], limit)
 
 
-def _fired(transition, limit):
+def limit_after(transition, limit):
     """Return the limit after firing the transition of a plain net, or None."""
     takes, gives, _ = transition
     result = []
@@ -118,7 +118,7 @@ def judge_limits(net, limit, limits):
         return False
     for other in limits:
         for transition in net.transitions:
-            result = _fired(transition, other)
+            result = limit_after(transition, other)
             if result is not None and not limit_in(result, limits):
                 return False
     return True

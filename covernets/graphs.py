@@ -67,7 +67,7 @@ def last_components(graph):
 
     So these are the markings that can be reached again from all that can be reached from them.
     """
-    names = _components(graph)
+    names = components(graph.moves)
     members = {}
     left = {}
     for number, row in enumerate(graph.moves):
@@ -80,7 +80,7 @@ def last_components(graph):
 
 def repeatable(graph):
     """Return the list of the repeatable transitions."""
-    names = _components(graph)
+    names = components(graph.moves)
     found = {}
     for number in Walk(graph.moves).visit(0):
         for index, target in enumerate(graph.moves[number]):
@@ -114,14 +114,14 @@ class Walk:
         return finished
 
 
-def _components(graph):
-    """Return for each marking a name that those have in common that lead to each other."""
-    sources = [[] for _ in graph.moves]
-    for number, row in enumerate(graph.moves):
+def components(moves):
+    """Return for each row of moves a name that those have in common that lead to each other."""
+    sources = [[] for _ in moves]
+    for number, row in enumerate(moves):
         for target in row:
             if target != -1:
                 sources[target].append(number)
-    walk = Walk(graph.moves)
+    walk = Walk(moves)
     order = []
     for first in range(len(sources)):
         order.extend(walk.visit(first))

@@ -1,7 +1,9 @@
 """Covering goals in mail nets: the mail basis, mail decisions and their judge (points 33 and 34)."""
 
 from covernets.backward import Search, config_way, configs_before
-from covernets.configs import Beside, ConfigBasis, words_after, words_before, words_cover
+from covernets.configs import (
+    Beside, ConfigBasis, markings_with_empty_words, words_after, words_before, words_cover,
+)
 from covernets.decisions import (
     are_many_before, least_count, outside_leads_outside, start_marking, step_back_within,
 )
@@ -14,10 +16,10 @@ class MailDecision:
         self.reachable = reachable
         self.count = count
         self.steps = None if steps is None else tuple([tuple(step) for step in steps])
-        self.barrier = tuple([_copied(config) for config in barrier])
+        self.barrier = tuple([copied_config(config) for config in barrier])
 
 
-def _copied(config):
+def copied_config(config):
     """Return the configuration with tuples only."""
     marking, words = config
     return tuple(marking), tuple([tuple(word) for word in words])
@@ -36,10 +38,10 @@ def mail_basis(mail, goals):
 def mail_way(mail, goals, config):
     """Return a list of steps that leads from the configuration into the closed set of the goals, or None."""
     run = config_way(mail.net, mail.actions, goals, config)
-    return None if run is None else _steps_of(mail, config[1], run)
+    return None if run is None else steps_of(mail, config[1], run)
 
 
-def _steps_of(mail, words, run):
+def steps_of(mail, words, run):
     """Return the steps of a run: before a letter is heard, those that stand before it in its word are lost."""
     steps = []
     for index in run:
@@ -54,16 +56,11 @@ def _steps_of(mail, words, run):
 def decide_mail(mail, start, goals):
     """Return the mail decision."""
     barrier = mail_basis(mail, goals)
-    count = least_count(start, _with_empty_words(barrier))
+    count = least_count(start, markings_with_empty_words(barrier))
     if count is None:
         return MailDecision(False, None, None, barrier)
     beginning = (start_marking(start, count), tuple([() for _ in mail.channels]))
     return MailDecision(True, count, mail_way(mail, goals, beginning), barrier)
-
-
-def _with_empty_words(configs):
-    """Return the markings of the configurations all of whose words are empty."""
-    return [marking for marking, words in configs if max([len(word) for word in words], default=0) == 0]
 
 
 def judge_mail(mail, start, goals, barrier):
@@ -72,7 +69,7 @@ def judge_mail(mail, start, goals, barrier):
     for goal in goals:
         if not known.contains(goal):
             return False
-    if least_count(start, _with_empty_words(barrier)) is not None:
+    if least_count(start, markings_with_empty_words(barrier)) is not None:
         return False
     for words in sorted(set([words for _, words in barrier])):
         markings = [marking for marking, other in barrier if other == words]

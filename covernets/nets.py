@@ -97,6 +97,8 @@ def predecessors(transition, member, known, whole):
     those that need tokens of several places where one place is enough.
     """
     takes, gives, moves = transition
+    if count_predecessors(transition, member, False) == 0:
+        return []
     rows = [takes]
     for place, number in enumerate(member):
         if number > gives[place]:
@@ -110,8 +112,6 @@ def predecessors(transition, member, known, whole):
 
 def _with_tokens(rows, sources, number, known):
     """Return the rows with so many tokens more, spread over the sources in each way."""
-    if not sources:
-        return []
     pairs = [(row, number) for row in rows]
     for source in sources[:-1]:
         pairs = [pair for row, left in pairs for pair in _with_some(row, source, left, known)]
