@@ -51,7 +51,7 @@ class Layers:
     def add_layer(self):
         """Add the next layer."""
         found = ConfigBasis([])
-        for marking, words in self.layers[-1].members:
+        for marking, words in list(self.layers[-1].members):
             for transition, action in zip(self.net.transitions, self.actions):
                 earlier = words_before(action, words)
                 for row in predecessors(transition, marking, Beside(self.basis, earlier), True):

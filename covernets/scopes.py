@@ -44,8 +44,8 @@ def _possible(mail, chosen, filled):
     possible = []
     sent = {}
     before = None
-    while before != (possible, sent, filled):
-        before = (list(possible), dict(sent), list(filled))
+    while before != (len(possible), len(sent), filled.count(True)):
+        before = (len(possible), len(sent), filled.count(True))
         for index in chosen:
             takes, gives, moves = mail.net.transitions[index]
             hears, sends = mail.actions[index]

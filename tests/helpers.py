@@ -1,10 +1,11 @@
 """What several tests use: small nets that are made from a seed, and slow but plain reference functions."""
 
 import random
-from itertools import product
+from itertools import permutations, product
 
 from covernets.mail import MailNet
 from covernets.nets import Net, enabled, fire
+from covernets.parties import is_legal, start_state, take_step
 from covernets.protocols import Rule, System
 
 HUGE = 10 ** 30
@@ -100,3 +101,79 @@ def some_protocol(seed):
     rules = [rule(name) for name in ["go", "r1", "r2", "all2", "rule", "bad", "z", "states"][:chooser.randint(0, 8)]]
     bad = [pattern() for _ in range(chooser.randint(0, 4))]
     return System(states, chooser.choice(states), variables, rules, bad, channels=channels)
+
+
+def active_protocol(seed, states=3, rules=3, most=2, channels=None):
+    """A small protocol that is made from a seed, most of whose rules are possible; most bounds the bad counts."""
+    chooser = random.Random(seed)
+    names = ["a", "b", "c", "d", "e", "f"][:chooser.randint(2, states)]
+    variables = [("v", ["x", "y"]), ("w", ["p", "q", "r"])][:chooser.choice([0, 0, 1, 1, 2])]
+    channels = [("box", ["s", "t"]), ("tray", ["u"])][:chooser.choice([0, 0, 1, 2]) if channels is None else channels]
+    reached = ["a"]
+    values = {name: row[:1] for name, row in variables}
+    sent = {name: [] for name, _ in channels}
+
+    def arrows(froms):
+        return [(state, chooser.choice(names + ["gone"] * (chooser.random() < 0.3))) for state in froms]
+
+    def some(owners, chance):
+        return [(name, chooser.choice(row)) for name, row in owners if row and chooser.random() < chance]
+
+    made = []
+    for number in range(chooser.randint(0, rules)):
+        rule = Rule(
+            f"r{number}", arrows(chooser.choices(reached, k=chooser.choice([1, 1, 2, 2, 3]))),
+            everyone=arrows(chooser.sample(names, chooser.choice([0, 0, 0, 1]))),
+            born=chooser.choices(names, k=chooser.choice([0, 0, 0, 0, 1])),
+            conditions=some(values.items(), 0.4), effects=some(variables, 0.4),
+            hears=some(sent.items(), 0.5), sends=some(channels, 0.5),
+        )
+        made.append(rule)
+        reached += [to for _, to in rule.actors + rule.everyone if to != "gone"] + list(rule.born)
+        for name, value in rule.effects:
+            values[name].append(value)
+        for name, letter in rule.sends:
+            sent[name].append(letter)
+    bad = []
+    for _ in range(chooser.choice([0, 1, 1, 1, 2])):
+        counts = [(state, chooser.randint(1, most)) for state in chooser.sample(names, chooser.randint(1, 2))]
+        bad.append((counts, some(variables, 0.3)))
+    chooser.shuffle(made)
+    return System(names, "a", variables, made, bad, channels=channels)
+
+
+def legal_steps(protocol, state):
+    """All legal steps of a global state."""
+    steps = [("lose", channel, at) for channel, word in enumerate(state[2]) for at in range(len(word))]
+    for number, rule in enumerate(protocol.rules):
+        for acting in permutations(range(len(state[0])), len(rule.actors)):
+            if is_legal(protocol, state, ("act", number, acting)):
+                steps.append(("act", number, acting))
+    return steps
+
+
+def sorted_state(state):
+    """The global state with its parties in order: which ones are in a state never matters."""
+    return tuple(sorted(state[0])), state[1], state[2]
+
+
+def next_states(protocol, state):
+    """The global states, with their parties in order, after all legal steps, and whether a rule leads there."""
+    found = {}
+    for step in legal_steps(protocol, state):
+        result = sorted_state(take_step(protocol, state, step))
+        found[result] = found.get(result, False) or step[0] == "act"
+    return found
+
+
+def global_states(protocol, count, limit):
+    """The set of the global states that can be reached: all, or some if they are too many or have six parties."""
+    first = sorted_state(start_state(protocol, count))
+    seen = {first}
+    waiting = [first]
+    for state in waiting:
+        for result in next_states(protocol, state):
+            if result not in seen and len(seen) < limit and len(result[0]) < 6:
+                seen.add(result)
+                waiting.append(result)
+    return seen
