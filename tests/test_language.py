@@ -116,11 +116,27 @@ class LanguageTest(unittest.TestCase):
             "protocols.py": "Rule System is_name",
             "parties.py": "start_state is_legal take_step play is_bad",
             "language.py": "format_protocol parse_protocol",
+            "compiler.py": "compile_protocol config_of schedule_of",
+            "verdicts.py": "Verdict decide_protocol",
+            "blame.py": "restricted blames repairs",
+            "papers.py": "paper_of audit",
+            "forever.py": "forever always_ends loop_for",
+            "agreement.py": "agreement",
+            "shortest.py": "distance shortest_way",
+            "needs.py": "needs",
+            "linear.py": "linear_paper judge_linear",
+            "nettext.py": "format_net parse_net",
+            "watch.py": "Watch",
         }
         found = dict(modules())
         for name, words in expected.items():
             defined = {node.name for node in ast.parse(found[name]).body if hasattr(node, "name")}
             self.assertLessEqual(set(words.split()), defined, name)
+
+    def test_methods_of_the_interface_stand_in_the_class(self):
+        watch = [node for node in ast.parse(dict(modules())["watch.py"]).body if isinstance(node, ast.ClassDef)][0]
+        methods = {node.name for node in watch.body if isinstance(node, ast.FunctionDef)}
+        self.assertLessEqual({"__init__", "take", "danger", "lapse"}, methods)
 
 
 if __name__ == "__main__":
