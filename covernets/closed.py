@@ -4,72 +4,108 @@ A closed set is given by a list of members: it contains all markings that cover 
 """
 
 
+# Bits are given anew when so many more were given than twice as many as there are markings left.
+SPARE = 64
+
+
 class Basis:
     """The least ones of the markings that were included.
 
-    They stand in a tree with a level for each place and a branch for each number of tokens in it, so
-    that a marking need not be compared with all of them one by one.
+    Each one has a bit. For each place there are the numbers that the markings have there, in ascending order,
+    and for each of them the bits of the markings with at most this number. So a marking is compared with all of
+    them at once.
     """
 
     def __init__(self, members):
         self.members = {}
-        self.tree = {}
+        self.clear_bits()
         for member in sorted(members):
             self.include(member)
 
+    def clear_bits(self):
+        """Forget the bits of all markings."""
+        self.rows = []
+        self.present = 0
+        self.numbers = []
+        self.bits = []
+
     def contains(self, marking):
         """Return True if the marking covers one of the basis, otherwise False."""
-        return _has_below(self.tree, marking, 0)
+        found = self.present
+        if found == 0:
+            return False
+        for number, numbers, bits in zip(marking, self.numbers, self.bits):
+            if number < numbers[0]:
+                return False
+            if number < numbers[-1]:
+                at = _count_less(numbers, number)
+                found = found & bits[at if numbers[at] == number else at - 1]
+                if found == 0:
+                    return False
+        return True
 
     def include(self, marking):
         """Include the marking, unless it covers one of the basis; return the list of those that it replaces."""
         if self.contains(marking):
             return []
         replaced = self.drop_above(marking)
-        self.members[marking] = True
-        branch = self.tree
-        for number in marking[:-1]:
-            branch = branch.setdefault(number, {})
-        branch[marking[-1]] = marking
+        if len(self.rows) > 2 * len(self.members) + SPARE:
+            self.pack()
+        self.give_bit(marking)
         return replaced
+
+    def give_bit(self, marking):
+        """Give a bit to the marking, which is a new one of the basis."""
+        if not self.numbers:
+            self.numbers = [[] for _ in marking]
+            self.bits = [[] for _ in marking]
+        bit = 1 << len(self.rows)
+        self.rows.append(marking)
+        self.present = self.present | bit
+        self.members[marking] = True
+        for number, numbers, bits in zip(marking, self.numbers, self.bits):
+            at = _count_less(numbers, number)
+            if at == len(numbers) or numbers[at] != number:
+                numbers.insert(at, number)
+                bits.insert(at, bits[at - 1] if at > 0 else 0)
+            for other in range(at, len(bits)):
+                bits[other] = bits[other] | bit
 
     def drop_above(self, marking):
         """Drop those of the basis that cover the marking; return the list of them."""
-        dropped = _all_above(self.tree, marking, 0)
+        found = self.present
+        for number, numbers, bits in zip(marking, self.numbers, self.bits):
+            at = _count_less(numbers, number)
+            if at > 0:
+                found = found & ~bits[at - 1]
+        self.present = self.present & ~found
+        dropped = []
+        while found != 0:
+            last = found.bit_length() - 1
+            dropped.append(self.rows[last])
+            found = found ^ (1 << last)
         for other in dropped:
-            self.drop(other)
+            del self.members[other]
         return dropped
 
-    def drop(self, marking):
-        """Drop a marking of the basis, and the branches of the tree that are empty then."""
-        del self.members[marking]
-        branches = [self.tree]
-        for number in marking[:-1]:
-            branches.append(branches[-1][number])
-        for place in reversed(range(len(marking))):
-            del branches[place][marking[place]]
-            if branches[place]:
-                return
+    def pack(self):
+        """Give new bits to the markings of the basis, and none to those that were dropped."""
+        self.clear_bits()
+        for member in list(self.members):
+            self.give_bit(member)
 
 
-def _has_below(branch, marking, place):
-    """Return True if a marking of the branch has, from the place on, at most the numbers of the marking."""
-    most = marking[place]
-    last = place == len(marking) - 1
-    for number, smaller in branch.items():
-        if number <= most and (last or _has_below(smaller, marking, place + 1)):
-            return True
-    return False
-
-
-def _all_above(branch, marking, place):
-    """Return the markings of the branch that have, from the place on, at least the numbers of the marking."""
-    found = []
-    last = place == len(marking) - 1
-    for number, smaller in branch.items():
-        if number >= marking[place]:
-            found.extend([smaller] if last else _all_above(smaller, marking, place + 1))
-    return found
+def _count_less(numbers, number):
+    """Return how many of the numbers, which are in ascending order, are less than the number."""
+    low = 0
+    high = len(numbers)
+    while low < high:
+        middle = (low + high) // 2
+        if numbers[middle] < number:
+            low = middle + 1
+        else:
+            high = middle
+    return low
 
 
 def covers(first, second):
