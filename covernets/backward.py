@@ -22,6 +22,9 @@ TRIED = 60
 # A plan is taken as a way if it is not longer than this.
 LONGEST_PLAN = 1000000
 
+# Runs are not pumped to markings with numbers that are all less than this: a few firings do as well.
+SMALL = 8
+
 # Runs that are pumped come from at most so many nodes, repeat other runs at most so often, and are no longer.
 MOST_NODES = 40
 FEW = 40
@@ -77,8 +80,9 @@ class Search:
             if is_over(self.caps, marking):
                 continue
             before = Node((marking, words), (index,), None, node)
-            for pump in _pumps(self.net, self.actions, before):
-                self.keep(pump)
+            if max(marking) >= SMALL:
+                for pump in _pumps(self.net, self.actions, before):
+                    self.keep(pump)
             self.keep(before)
 
     def keep(self, node):
