@@ -5,6 +5,7 @@ of firings do, and these can be found however great they are. The order of the f
 may be missed, but one that is found can be fired.
 """
 
+from covernets.closed import covers
 from covernets.reduction import possible_transitions
 from covernets.runs import need_and_effect, shifted, spread
 
@@ -57,6 +58,27 @@ def plan_to(net, limit, goal):
     parts, reached = _fired_by_plan(net, limit, possible, counts[:-1])
     missed = [place for place in finite if reached[place] < goal[place]]
     return True, parts if not missed and not growing else None
+
+
+def least_firings(net, marking, goal):
+    """Return a pair: what each run to the goal has at least as its length, None if there is no run; and parts.
+
+    The parts lead to the goal with so many firings, or are None if no such ones were found.
+    """
+    changes = [need_and_effect(net, (index,))[1] for index in range(len(net.transitions))]
+    rows = [[-change[place] for change in changes] for place in range(net.places)]
+    gaps = [number - wanted for number, wanted in zip(marking, goal)]
+    table, basis = _first_table(rows, gaps, [-1] * len(changes))
+    best = _mended(table, basis, 1)
+    if best is not None:
+        best = _with_cuts(best[0], best[1], best[2])
+    if best is None:
+        return None, None
+    table, basis, divisor = best
+    counts = [number // divisor for number in _solution(table, basis, len(changes))]
+    least = -(table[-1][-1] // divisor)
+    parts, reached = _fired_by_plan(net, tuple(marking), list(range(len(changes))), counts)
+    return least, parts if sum(counts) == least and covers(reached, goal) else None
 
 
 def _fired_by_plan(net, limit, indexes, counts):
@@ -130,11 +152,7 @@ def best_fractions(rows, most, aims):
 
 def _best_table(rows, most, aims):
     """Return the table of best fractions, its basis and its divisor, or None if there is no greatest value."""
-    table = []
-    for at, row in enumerate(rows):
-        table.append(list(row) + [1 if other == at else 0 for other in range(len(rows))] + [most[at]])
-    table.append([-aim for aim in aims] + [0] * (len(rows) + 1))
-    basis = list(range(len(aims), len(aims) + len(rows)))
+    table, basis = _first_table(rows, most, aims)
     divisor = 1
     column = _entering(table)
     while column != -1:
@@ -145,6 +163,15 @@ def _best_table(rows, most, aims):
         basis[at] = column
         column = _entering(table)
     return table, basis, divisor
+
+
+def _first_table(rows, most, aims):
+    """Return the table in which all numbers that are looked for are 0, and its basis."""
+    table = []
+    for at, row in enumerate(rows):
+        table.append(list(row) + [1 if other == at else 0 for other in range(len(rows))] + [most[at]])
+    table.append([-aim for aim in aims] + [0] * (len(rows) + 1))
+    return table, list(range(len(aims), len(aims) + len(rows)))
 
 
 def _solution(table, basis, many):
@@ -193,7 +220,7 @@ def _pivoted(table, row, column, divisor):
 
 
 def _with_cuts(table, basis, divisor):
-    """Return the table, its basis and its divisor after cuts that no whole numbers exceed."""
+    """Return the table, its basis and its divisor after cuts that no whole numbers exceed; None if there are none."""
     columns = list(basis)
     for _ in range(CUTS):
         fractions = [at for at, line in enumerate(table) if line[-1] % divisor != 0]
@@ -203,12 +230,24 @@ def _with_cuts(table, basis, divisor):
         lines = [line[:-1] + [0] + line[-1:] for line in table]
         table = lines[:-1] + [cut[:-1] + [divisor] + cut[-1:]] + lines[-1:]
         columns.append(len(cut) - 1)
+        mended = _mended(table, columns, divisor)
+        if mended is None:
+            return None
+        table, columns, divisor = mended
+    return table, columns, divisor
+
+
+def _mended(table, basis, divisor):
+    """Return the table, its basis and its divisor without negative numbers at the ends of rows, or None."""
+    columns = list(basis)
+    lacking = _lacking(table, columns)
+    while lacking != -1:
+        column = _least_loss(table, lacking)
+        if column == -1:
+            return None
+        table, divisor = _pivoted(table, lacking, column, divisor)
+        columns[lacking] = column
         lacking = _lacking(table, columns)
-        while lacking != -1:
-            column = _least_loss(table, lacking)
-            table, divisor = _pivoted(table, lacking, column, divisor)
-            columns[lacking] = column
-            lacking = _lacking(table, columns)
     return table, columns, divisor
 
 

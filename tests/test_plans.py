@@ -1,11 +1,12 @@
 import random
 import unittest
 
+from covernets.closed import covers
 from covernets.errors import NotPlain
 from covernets.forward import bounds, limit_set
 from covernets.growth import growth, longest_reach
 from covernets.limits import limit_in
-from covernets.plans import best_plan, maximize, plan_to
+from covernets.plans import best_plan, least_firings, maximize, plan_to
 from covernets.runs import fire_parts, run_from
 from covernets.backward import way
 from covernets.nets import Net
@@ -130,6 +131,45 @@ class PlansTest(unittest.TestCase):
         moving = Net(2, [((1, 0), (0, 0), (1, 1))])
         self.assertRaises(NotPlain, bounds, moving, (HUGE, 0))
         self.assertRaises(NotPlain, growth, moving, (HUGE, 0), (0, 0), 1)
+
+
+class LeastFiringsTest(unittest.TestCase):
+    def test_ordinary(self):
+        self.assertEqual(least_firings(NET, (3, 0, 0), (0, 0, 1)), (2, [((0,), 1), ((1,), 1)]))
+        self.assertEqual(least_firings(NET, (3, 0, 0), (3, 0, 0)), (0, []))
+        self.assertEqual(least_firings(NET, (1, 0, 0), (0, 0, 1)), (None, None))
+        self.assertEqual(least_firings(NET, (HUGE, 0, 0), (0, 2 * HUGE, 0))[0], HUGE)
+
+    def test_fractions_are_not_firings(self):
+        # Half a firing would do, if there were such ones; and from an odd number none does.
+        net = plain_net(2, [((0, 0), (2, 0)), ((4, 0), (2, 1))])
+        self.assertEqual(least_firings(net, (0, 0), (1, 0))[0], 1)
+        self.assertEqual(least_firings(net, (0, 0), (3, 1))[0], 4)
+        self.assertEqual(least_firings(plain_net(2, [((2, 1), (0, 2))]), (1, 1), (0, 2)), (None, None))
+
+    def test_what_cannot_be_ordered(self):
+        # Each of the two needs what the other one gives.
+        net = plain_net(2, [((1, 0), (0, 2)), ((0, 1), (2, 0))])
+        self.assertEqual(least_firings(net, (0, 0), (1, 1)), (2, None))
+
+    def test_without_transitions(self):
+        self.assertEqual(least_firings(Net(1, []), (2,), (2,)), (0, []))
+        self.assertEqual(least_firings(Net(1, []), (2,), (3,)), (None, None))
+
+    def test_many_nets(self):
+        told = 0
+        for seed in range(300):
+            net = small_net(seed, 3, 1 + seed % 4, 3, 0)
+            marking, goal = (seed % 3, seed % 2, 3), ((seed + 1) % 5, seed % 4, 1)
+            least, parts = least_firings(net, marking, goal)
+            run = way(net, [goal], marking)
+            if run is not None:
+                self.assertLessEqual(least, len(run))
+            if parts is not None:
+                told += least > 0
+                self.assertEqual(sum(len(run) * times for run, times in parts), least)
+                self.assertTrue(covers(fire_parts(net, marking, parts), goal))
+        self.assertGreater(told, 20)
 
 
 if __name__ == "__main__":

@@ -1,8 +1,9 @@
 import random
 import unittest
 
-from covernets.backward import way
+from covernets.backward import alone, silent, way
 from covernets.closed import in_closed
+from covernets.distances import Layers, shortest_run
 from covernets.nets import Net, enabled, fire
 from covernets.runs import run_from
 from covernets.shortest import distance, shortest_way
@@ -104,6 +105,28 @@ class ShortestTest(unittest.TestCase):
         run = self.check(net, [(0, 100)], (0, 0))
         self.assertEqual((len(run), sorted(set(run))), (300, [0, 1]))
         self.assertEqual(run, [0] * 200 + [1] * 100)
+
+    def test_great_distances(self):
+        step, mixed = plain_net(2, [((1, 0), (0, 1))]), plain_net(2, [((1, 0), (0, 1)), ((2, 0), (0, 3)), ((0, 4), (1, 0))])
+        self.assertEqual(distance(step, [(0, HUGE), (1, HUGE - 1)], (HUGE, 0)), HUGE - 1)
+        self.assertIsNone(distance(step, [(0, HUGE)], (HUGE - 1, 0)))
+        self.assertEqual(distance(mixed, [(0, 3 * HUGE)], (2 * HUGE, 0)), HUGE)
+        self.assertEqual(distance(mixed, [(0, 3 * HUGE + 1)], (2 * HUGE + 1, 0)), HUGE + 1)
+
+    def test_plans_tell_what_a_search_finds(self):
+        long = 0
+        for seed in range(500):
+            chooser = random.Random(seed)
+            places = chooser.randint(2, 4)
+            net = small_net(seed, places, chooser.randint(1, 4), chooser.randint(1, 3), 0)
+            goals = [tuple(chooser.choice((0, 0, 5, 12, 20)) for _ in range(places)) for _ in range(1 + seed % 2)]
+            marking = tuple(chooser.choice((0, 1, 9, 25)) for _ in range(places))
+            if way(net, goals, marking) is not None and len(way(net, goals, marking)) < 60:
+                layers = Layers(net, silent(net), alone(goals), ())
+                expected = shortest_run(layers, (marking, ()))
+                self.assertEqual(self.check(net, goals, marking), expected)
+                long += len(expected) > 8
+        self.assertGreater(long, 40)
 
     def test_many_nets(self):
         found = {"none": 0, "long": 0, "moving": 0}
