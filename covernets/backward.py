@@ -285,8 +285,11 @@ def has_way(net, actions, goals, config, caps):
     """
     marking, words = config
     if not words and is_plain(net) and has_great_numbers(marking):
-        if True not in [plan_to(net, marking, goal)[0] for goal, _ in goals]:
+        plans = [plan_to(net, marking, goal) for goal, _ in goals]
+        if True not in [possible for possible, _ in plans]:
             return False
+        if [parts for _, parts in plans if parts is not None]:
+            return True
     return Search(net, actions, goals, config, caps).found is not None
 
 

@@ -41,8 +41,8 @@ def _borders(protocol):
 
 def _all_sets(many):
     """Return all sets of so many rules, as tuples of indexes, the greatest sets first."""
-    masks = [tuple([index for index in range(many) if mask >> index & 1]) for mask in range(1 << many)]
-    return sorted(masks, key=_minus_length)
+    sets = [tuple([index for index in range(many) if bits >> index & 1]) for bits in range(1 << many)]
+    return sorted(sets, key=_minus_length)
 
 
 def _minus_length(chosen):

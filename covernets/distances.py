@@ -16,7 +16,7 @@ class Layers:
 
     What covers one of a layer is so many firings away from the goals as the layer tells, or less if it covers
     one of an earlier layer, too. Markings that are over the caps are left out. When the last layer is empty,
-    so are all others.
+    so are all others. The cost tells how many configurations may have to be looked at for the next layer.
     """
 
     def __init__(self, net, actions, goals, caps):
@@ -26,6 +26,7 @@ class Layers:
         self.caps = caps
         self.basis = ConfigBasis([])
         self.layers = []
+        self.cost = 0
         self.keep([goal for goal in config_basis(goals) if not is_over(caps, goal[0])])
 
     def keep(self, configs):
@@ -36,17 +37,13 @@ class Layers:
                 self.basis.include(config)
                 layer.include(config)
         self.layers.append(layer)
+        self.cost = 0
+        for marking, _ in layer.members:
+            self.cost += sum([count_predecessors(transition, marking, True) for transition in self.net.transitions])
 
     def is_done(self):
         """Return True if all further layers are empty, otherwise False."""
         return not self.layers[-1].members
-
-    def count_next(self):
-        """Return how many configurations may have to be looked at for the next layer."""
-        count = 0
-        for marking, _ in self.layers[-1].members:
-            count += sum([count_predecessors(transition, marking, True) for transition in self.net.transitions])
-        return count
 
     def add_layer(self):
         """Add the next layer."""
@@ -129,7 +126,7 @@ def shortest_run(layers, config):
         # All runs have been tried that are as long as the trail and the layers together. The side goes on that
         # costs less so far: the other one may never come to an end.
         next_ahead = ahead + len(trail.front) * len(layers.actions)
-        next_back = back + layers.count_next()
+        next_back = back + layers.cost
         if next_back < next_ahead:
             back = next_back
             layers.add_layer()
