@@ -6,8 +6,11 @@ from covernets.loops import lasting_parts, lasting_run
 from covernets.nets import check_plain
 from covernets.runs import need
 
-# Numbers of the limit from this one on are at first taken for any number, as it seldom matters how great they
-# are; where it does, only those from a number on that is so many times as great.
+# So many limits are looked at before great numbers of the limit are taken for any number.
+FEW_LIMITS = 200
+
+# Numbers of the limit from this one on are taken for any number then, as it seldom matters how great they are;
+# where it does, only those from a number on that is so many times as great.
 GREAT = 8
 TIMES_GREATER = 8
 
@@ -16,14 +19,17 @@ def forever(net, limit):
     """Return the list of the transitions that can go on for ever from the limit."""
     check_plain(net)
     sure = {}
-    for blurred in _blurred(limit):
-        parts = lasting_parts(net, blurred)
+    for blurred, most in _stages(limit):
+        parts = lasting_parts(net, blurred, most)
+        if parts is None:
+            continue
         found = {index: True for part in parts for index in part.fired()}
         if blurred == limit:
             return sorted(found)
         for index in found:
-            if index not in sure and _loop_from(net, limit, blurred, parts, index) is not None:
-                sure[index] = True
+            loop = None if index in sure else _loop_from(net, limit, blurred, parts, index)
+            if loop is not None:
+                sure.update({other: True for other in loop[2]})
         # What is not found from a greater limit cannot go on for ever.
         if len(sure) == len(found):
             break
@@ -39,22 +45,27 @@ def loop_for(net, limit, index):
     """Return a loop (marking, parts, run) for the transition, or None if it cannot go on for ever."""
     check_plain(net)
     loop = None
-    for blurred in _blurred(limit):
-        parts = [part for part in lasting_parts(net, blurred) if index in part.fired()]
-        loop = _loop_from(net, limit, blurred, parts, index)
-        if loop is not None or not parts:
-            break
+    for blurred, most in _stages(limit):
+        parts = lasting_parts(net, blurred, most)
+        if parts is not None:
+            parts = [part for part in parts if index in part.fired()]
+            loop = _loop_from(net, limit, blurred, parts, index)
+            if loop is not None or not parts:
+                break
     return loop
 
 
-def _blurred(limit):
-    """Return the list of limits with -1 instead of great numbers, fewer and fewer; the last one is the limit."""
-    limits = []
+def _stages(limit):
+    """Return the list of pairs of a limit and of how many limits are looked at for it, None if as many as there are.
+
+    They are the limit itself, those with -1 instead of great numbers, fewer and fewer, and the limit again.
+    """
+    stages = [(tuple(limit), FEW_LIMITS)]
     great = GREAT
     while great <= max(limit):
-        limits.append(tuple([-1 if number >= great else number for number in limit]))
+        stages.append((tuple([-1 if number >= great else number for number in limit]), None))
         great = great * TIMES_GREATER
-    return limits + [tuple(limit)]
+    return stages + [(tuple(limit), None)]
 
 
 def _loop_from(net, limit, blurred, parts, index):

@@ -24,9 +24,12 @@ class LimitNode:
 
 
 class LimitTree:
-    """The nodes that grow from a limit, until one has the goal within its limit or nothing is new."""
+    """The nodes that grow from a limit, until one has the goal within its limit or nothing is new.
 
-    def __init__(self, net, limit, goal):
+    If most is given, the tree stops growing, too, when it has so many nodes; is_whole tells whether it has not.
+    """
+
+    def __init__(self, net, limit, goal, most=None):
         self.net = net
         self.goal = goal
         self.found = None
@@ -35,10 +38,11 @@ class LimitTree:
         self.nodes = []
         self.queue = []
         self.keep(LimitNode(tuple(limit), None, -1, []))
-        while self.queue and self.found is None:
+        while self.queue and self.found is None and (most is None or len(self.nodes) < most):
             _, at = heappop(self.queue)
             if turned(self.nodes[at].limit) in self.greatest:
                 self.expand(self.nodes[at])
+        self.is_whole = not self.queue
 
     def expand(self, node):
         """Add the nodes that one firing leads to."""
@@ -108,7 +112,12 @@ def limit_after(transition, limit):
 def limit_set(net, limit):
     """Return the limit set of a limit: the frame of all that reachable markings cover."""
     check_plain(net)
-    return sorted([node.limit for node in LimitTree(net, limit, None).greatest.values()])
+    return limits_of_tree(LimitTree(net, limit, None))
+
+
+def limits_of_tree(tree):
+    """Return the list of the greatest limits of the nodes of a tree, in ascending order."""
+    return sorted([node.limit for node in tree.greatest.values()])
 
 
 def judge_limits(net, limit, limits):

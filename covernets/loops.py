@@ -6,11 +6,14 @@ is a closed walk, and its effect has no negative number where the limits have -1
 walk can be fired at some marking that is reachable, as the limit set is exact.
 """
 
-from covernets.forward import limit_after, limit_set
+from covernets.forward import LimitTree, limit_after, limits_of_tree
 from covernets.graphs import Graph, components, route
 from covernets.invariants import divided
 from covernets.plans import best_fractions
 from covernets.runs import effects
+
+# So much more than needed is gained at places that can grow, to make up for taking walks whole numbers of times.
+MARGINS = (0, 1, 2, 4, 8, 16, 32, 64, 128, 256)
 
 
 class Part:
@@ -25,6 +28,7 @@ class Part:
         self.changes = changes
         endless = [place for place, most in enumerate(limits[0]) if most == -1]
         self.gains = [[change[place] for place in endless] for change in changes]
+        self.growing = None
         self.steps = []
         for number, row in enumerate(moves):
             self.steps.extend([(number, index, target) for index, target in enumerate(row) if target != -1])
@@ -32,6 +36,14 @@ class Part:
     def fired(self):
         """Return the list of the transitions that are fired in the part."""
         return sorted(set([index for _, index, _ in self.steps]))
+
+    def places_that_grow(self):
+        """Return for each place where the limits have -1 whether a closed walk without negative gains gains there."""
+        if self.growing is None:
+            places = list(range(len(self.gains[0])))
+            lacks = [[-1 if other == place else 0 for other in places] for place in places]
+            self.growing = [_balance(self, lack)[2] is None for lack in lacks]
+        return self.growing
 
     def path(self, first, last):
         """Return the list of the steps on a shortest way from one limit to another."""
@@ -50,10 +62,16 @@ class Part:
         return self.sum_of([self.gains[index] for _, index, _ in steps])
 
 
-def lasting_parts(net, limit):
-    """Return the list of the parts all of whose steps lie on one closed walk that can be repeated without end."""
+def lasting_parts(net, limit, most):
+    """Return the list of the parts all of whose steps lie on one closed walk that can be repeated without end.
+
+    If most is not None and so many limits do not suffice to tell, return None.
+    """
     changes = effects(net)
-    limits = limit_set(net, limit)
+    tree = LimitTree(net, limit, None, most)
+    if not tree.is_whole:
+        return None
+    limits = limits_of_tree(tree)
     numbers = {other: number for number, other in enumerate(limits)}
     moves = []
     for other in limits:
@@ -172,13 +190,29 @@ def lasting_run(part, index):
     """Return a run, a list, that fires the transition on a closed walk of a lasting part, with no negative gains."""
     walk = _walk_with(part, index)
     while True:
-        walks, numbers, _ = _balance(part, part.gains_of(walk))
-        times = [(walk, numbers[-1])] + [pair for pair in zip(walks, numbers) if pair[1] > 0]
+        times = _times_with(part, walk)
         apart = _apart([steps for steps, _ in times])
         if not apart:
-            return _circuit(walk[0][0], times)
+            return _circuit(times)
         first, other = walk[0][0], apart[0][0][0]
         walk = walk + part.path(first, other) + part.path(other, first)
+
+
+def _times_with(part, walk):
+    """Return pairs (walk, times), of which the given walk is the first one, that have no negative gains together."""
+    total = part.gains_of(walk)
+    for margin in MARGINS:
+        asked = [gain - margin if grows else gain for gain, grows in zip(total, part.places_that_grow())]
+        walks, numbers, _ = _balance(part, asked)
+        times = [(walk, 1)]
+        for other, number in zip(walks, numbers):
+            if number > 0:
+                times.append((other, -(-number // numbers[-1])))
+        rows = [[many * gain for gain in part.gains_of(steps)] for steps, many in times]
+        if min(part.sum_of(rows), default=0) >= 0:
+            return times
+    walks, numbers, _ = _balance(part, total)
+    return [(walk, numbers[-1])] + [pair for pair in zip(walks, numbers) if pair[1] > 0]
 
 
 def _walk_with(part, index):
@@ -207,8 +241,9 @@ def _apart(walks):
     return apart
 
 
-def _circuit(first, times):
-    """Return the run of a closed walk from the first limit that takes each walk so many times."""
+def _circuit(times):
+    """Return the run of a closed walk from the first limit of the first walk that takes each walk so many times."""
+    first = times[0][0][0][0]
     left = {}
     for walk, many in times:
         for number, index, target in walk:

@@ -67,16 +67,10 @@ def least_firings(net, marking, goal):
     """
     changes = [need_and_effect(net, (index,))[1] for index in range(len(net.transitions))]
     rows = [[-change[place] for change in changes] for place in range(net.places)]
-    gaps = [number - wanted for number, wanted in zip(marking, goal)]
-    table, basis = _first_table(rows, gaps, [-1] * len(changes))
-    best = _mended(table, basis, 1)
-    if best is not None:
-        best = _with_cuts(best[0], best[1], best[2])
+    best = least_numbers(rows, [number - wanted for number, wanted in zip(marking, goal)], len(changes))
     if best is None:
         return None, None
-    table, basis, divisor = best
-    counts = [number // divisor for number in _solution(table, basis, len(changes))]
-    least = -(table[-1][-1] // divisor)
+    counts, least = best
     parts, reached = _fired_by_plan(net, tuple(marking), list(range(len(changes))), counts)
     return least, parts if sum(counts) == least and covers(reached, goal) else None
 
@@ -138,6 +132,22 @@ def maximize(rows, most, aims):
     table, basis, divisor = best
     table, basis, divisor = _with_cuts(table, basis, divisor)
     return [number // divisor for number in _solution(table, basis, len(aims))], table[-1][-1] // divisor
+
+
+def least_numbers(rows, most, many):
+    """Return so many whole numbers x, none negative, with rows * x at most what is told, and the least sum of such.
+
+    Return None if there are none. If it took too many cuts to find whole numbers, what is returned is a sum that
+    all have at least, and other numbers, perhaps too small ones.
+    """
+    table, basis = _first_table(rows, most, [-1] * many)
+    best = _mended(table, basis, 1)
+    if best is not None:
+        best = _with_cuts(best[0], best[1], best[2])
+    if best is None:
+        return None
+    table, basis, divisor = best
+    return [number // divisor for number in _solution(table, basis, many)], -(table[-1][-1] // divisor)
 
 
 def best_fractions(rows, most, aims):

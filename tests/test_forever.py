@@ -157,6 +157,19 @@ class ForeverTest(unittest.TestCase):
         self.assertEqual(self.check(net, (71, 1, 0)), [])
         self.assertEqual(self.check(net, (72, 1, 0)), [2])
 
+    def test_greatest_nets(self):
+        for seed in range(6):
+            net = small_net(seed, 12, 24, 9, 0)
+            limit = some_limit(seed, 12, (0, 1, -1, -1, HUGE))
+            found = forever(net, limit)
+            for index in found[:2]:
+                marking, parts, run = loop_for(net, limit, index)
+                self.assertTrue(admits(limit, marking))
+                run_from(net, fire_parts(net, marking, parts), run)
+                self.assertIn(index, run)
+                self.assertGreaterEqual(min(effect(net, run)), 0)
+                self.assertLess(len(run), 5000)
+
     def test_bounded_nets(self):
         compared = 0
         for seed in range(400):
