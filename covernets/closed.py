@@ -3,7 +3,6 @@
 A closed set is given by a list of members: it contains all markings that cover a member.
 """
 
-
 # Bits are given anew when so many more were given than twice as many as there are markings left.
 SPARE = 64
 
@@ -34,12 +33,12 @@ class Basis:
         found = self.present
         if found == 0:
             return False
-        for number, numbers, bits in zip(marking, self.numbers, self.bits):
-            if number < numbers[0]:
+        for number, known, masks in zip(marking, self.numbers, self.bits):
+            if number < known[0]:
                 return False
-            if number < numbers[-1]:
-                at = _count_less(numbers, number)
-                found = found & bits[at if numbers[at] == number else at - 1]
+            if number < known[-1]:
+                at = _count_less(known, number)
+                found = found & masks[at if known[at] == number else at - 1]
                 if found == 0:
                     return False
         return True
@@ -63,21 +62,21 @@ class Basis:
         self.rows.append(marking)
         self.present = self.present | bit
         self.members[marking] = True
-        for number, numbers, bits in zip(marking, self.numbers, self.bits):
-            at = _count_less(numbers, number)
-            if at == len(numbers) or numbers[at] != number:
-                numbers.insert(at, number)
-                bits.insert(at, bits[at - 1] if at > 0 else 0)
-            for other in range(at, len(bits)):
-                bits[other] = bits[other] | bit
+        for number, known, masks in zip(marking, self.numbers, self.bits):
+            at = _count_less(known, number)
+            if at == len(known) or known[at] != number:
+                known.insert(at, number)
+                masks.insert(at, masks[at - 1] if at > 0 else 0)
+            for other in range(at, len(masks)):
+                masks[other] = masks[other] | bit
 
     def drop_above(self, marking):
         """Drop those of the basis that cover the marking; return the list of them."""
         found = self.present
-        for number, numbers, bits in zip(marking, self.numbers, self.bits):
-            at = _count_less(numbers, number)
+        for number, known, masks in zip(marking, self.numbers, self.bits):
+            at = _count_less(known, number)
             if at > 0:
-                found = found & ~bits[at - 1]
+                found = found & ~masks[at - 1]
         self.present = self.present & ~found
         dropped = []
         while found != 0:

@@ -29,7 +29,7 @@ class ConfigBasis:
         return False
 
     def shelves_within(self, words):
-        """Return the list of the bases of the markings whose words are within these."""
+        """Return the list of the bases of the markings whose words go with these."""
         if words not in self.smaller:
             self.smaller[words] = [shelf for other, shelf in self.shelves.items() if self.words_go_with(words, other)]
         return self.smaller[words]

@@ -1,6 +1,7 @@
+import random
 import unittest
 
-from covernets.closed import basis_of, closed_within, covers, in_closed, meet
+from covernets.closed import Basis, basis_of, closed_within, covers, in_closed, meet
 from helpers import HUGE, box
 
 
@@ -96,6 +97,29 @@ class ClosedSetTest(unittest.TestCase):
         closed_within(first, second)
         in_closed(first, (1, 1))
         self.assertEqual((first, second), ([(2, 0), (3, 0)], [(0, 1), (3, 0)]))
+
+
+class GrowingBasisTest(unittest.TestCase):
+    def test_like_comparing_with_each_one(self):
+        for seed in range(30):
+            chooser = random.Random(seed)
+            size = 1 + seed % 5
+            basis, members = Basis([]), []
+            for turn in range(400):
+                # Smaller and smaller ones, so that most of those from before are replaced.
+                most = max(1, 40 - turn // 10)
+                marking = tuple(chooser.choice((chooser.randint(0, most), most, HUGE)) for _ in range(size))
+                known = any(covers(marking, member) for member in members)
+                self.assertIs(basis.contains(marking), known)
+                if turn % 9 == 8:
+                    above = [member for member in members if covers(member, marking)]
+                    self.assertEqual(sorted(basis.drop_above(marking)), sorted(above))
+                    members = [member for member in members if member not in above]
+                else:
+                    above = [] if known else [member for member in members if covers(member, marking)]
+                    self.assertEqual(sorted(basis.include(marking)), sorted(above))
+                    members = [member for member in members if member not in above] + ([] if known else [marking])
+                self.assertEqual(sorted(basis.members), sorted(members))
 
 
 if __name__ == "__main__":
