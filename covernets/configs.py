@@ -82,13 +82,16 @@ class Beside:
 
 def is_within(first, second):
     """Return True if the first word is within the second one, otherwise False."""
-    if len(first) > len(second):
-        return False
+    left = len(first)
+    if left == 0 or left >= len(second):
+        return left == 0 or tuple(first) == tuple(second)
     at = 0
     for letter in second:
-        if at < len(first) and first[at] == letter:
+        if letter == first[at]:
             at += 1
-    return at == len(first)
+            if at == left:
+                return True
+    return False
 
 
 def words_cover(first, second):
