@@ -251,7 +251,9 @@ class ScheduleTest(unittest.TestCase):
             schedule = schedule_of(protocol, count, steps)
             self.assertIsInstance(schedule, list)
             self.assertEqual(config_of(protocol, play(protocol, count, schedule)), take_mail(mail, first, steps))
-            self.assertEqual(schedule_of(protocol, count, steps), schedule)
+            schedule.append("more")
+            self.assertEqual(schedule_of(protocol, count, steps), schedule[:-1])
+            schedule.pop()
             state = start_state(protocol, count)
             for step, chosen in zip(steps, schedule):
                 expected = step if step[0] == "lose" else ("act", step[1], first_fitting(protocol, state, step[1]))

@@ -71,8 +71,9 @@ class ForeverTest(unittest.TestCase):
             parts.append("more")
             run.append("more")
             self.assertNotEqual(loop_for(net, limit, index), loop)
-        self.assertEqual(forever(net, limit), found)
-        return found
+        found.append("more")
+        self.assertEqual(forever(net, limit), found[:-1])
+        return found[:-1]
 
     def test_example(self):
         self.assertEqual((forever(EXAMPLE, (1, 0)), always_ends(EXAMPLE, (0, 1))), ([0, 1], True))
