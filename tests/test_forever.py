@@ -3,6 +3,7 @@ import unittest
 
 from covernets.errors import NotPlain, TooMany
 from covernets.forever import always_ends, forever, loop_for
+from covernets.forward import limit_set
 from covernets.graphs import explore, repeatable
 from covernets.limits import admits
 from covernets.nets import Net
@@ -170,6 +171,14 @@ class ForeverTest(unittest.TestCase):
                 self.assertIn(index, run)
                 self.assertGreaterEqual(min(effect(net, run)), 0)
                 self.assertLess(len(run), 5000)
+
+    def test_numbers_that_are_just_enough_among_many_limits(self):
+        steps = [((9, 0, 0, 0), (0, 1, 0, 0)), ((0, 9, 0, 0), (0, 0, 1, 0)), ((0, 0, 9, 0), (0, 0, 0, 1))]
+        net = plain_net(4, steps + [((0, 0, 0, 1), (0, 0, 0, 1))])
+        self.assertGreater(len(limit_set(net, (728, 0, 0, 0))), 200)
+        self.assertEqual(self.check(net, (728, 0, 0, 0)), [])
+        self.assertEqual(self.check(net, (729, 0, 0, 0)), [3])
+        self.assertEqual(self.check(net, (HUGE, 0, 0, 0)), [3])
 
     def test_bounded_nets(self):
         compared = 0

@@ -106,6 +106,22 @@ class ShortestTest(unittest.TestCase):
         self.assertEqual((len(run), sorted(set(run))), (300, [0, 1]))
         self.assertEqual(run, [0] * 200 + [1] * 100)
 
+    def test_many_ways_of_the_same_length(self):
+        # Each of 4 places gets its tokens from a transition of its own, in any order.
+        rows = [tuple(int(place == other) for other in range(4)) for place in range(4)]
+        net = plain_net(4, [((0, 0, 0, 0), row) for row in rows])
+        run = self.check(net, [(40, 40, 40, 40)], (0, 5, 0, 0))
+        self.assertEqual(run, [0] * 40 + [1] * 35 + [2] * 40 + [3] * 40)
+        run = self.check(net, [(40, 40, 40, 40), (99, 0, 50, 0)], (0, 5, 0, 0))
+        self.assertEqual(run, [0] * 99 + [2] * 50)
+
+    def test_great_goals_that_no_run_reaches(self):
+        # Place 1 would grow without end if it had a token.
+        net = plain_net(2, [((0, 0), (1, 0)), ((1, 1), (0, 2))])
+        self.assertIsNone(self.check(net, [(0, HUGE)], (0, 0)))
+        moving = Net(3, [((0, 0, 0), (1, 0, 0), (0, 1, 2)), ((1, 1, 0), (0, 2, 0), (0, 1, 1))])
+        self.assertIsNone(self.check(moving, [(0, HUGE, 0)], (0, 0, 0)))
+
     def test_great_distances(self):
         step, mixed = plain_net(2, [((1, 0), (0, 1))]), plain_net(2, [((1, 0), (0, 1)), ((2, 0), (0, 3)), ((0, 4), (1, 0))])
         self.assertEqual(distance(step, [(0, HUGE), (1, HUGE - 1)], (HUGE, 0)), HUGE - 1)
