@@ -7,7 +7,6 @@ Runs are fired with losses then: what stands before a letter that is to be heard
 
 from heapq import heappop, heappush
 
-from covernets.closed import covers
 from covernets.configs import (
     Beside, ConfigBasis, config_basis, config_covers, in_config_set, words_after, words_before, words_cover,
 )
