@@ -15,14 +15,14 @@ class Watch:
         self.state = start_state(protocol, count)
         marking, _ = config_of(protocol, self.state)
         scope = Scope(protocol, all_rules(protocol), marking)
-        self.rules = scope.indexes
+        self.rules = tuple(scope.indexes)
         self.layers = Layers(scope.net, scope.actions, scope.goals, scope.caps)
         self.run = self.run_to_bad()
 
     def run_to_bad(self):
-        """Return the shortest run of rules, a list, that leads with losses to a bad global state, or None."""
+        """Return the shortest run of rules, a tuple, that leads with losses to a bad global state, or None."""
         run = shortest_run(self.layers, config_of(self.protocol, self.state))
-        return None if run is None else [self.rules[index] for index in run]
+        return None if run is None else tuple([self.rules[index] for index in run])
 
     def take(self, step):
         """Take a step and return the danger of the global state after it; raise IllegalStep with position 0."""
